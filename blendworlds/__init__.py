@@ -1,0 +1,1 @@
+"""Blendworlds: what can be promised of all puzzles of a book."""
