@@ -3,7 +3,7 @@
 from blendworlds.checks import are_below, as_set, check_kind, check_places, check_values
 from blendworlds.checks import is_ascending, is_below, is_number, is_tuple, tupled
 from blendworlds.errors import CanNot, Unfit
-from blendworlds.search import first_values, left_with, net_of, parts_at
+from blendworlds.search import first_values, left_told, left_with, net_of, parts_at
 
 
 def is_tie(book, places, thing):
@@ -138,12 +138,7 @@ def settings_showing(book, puzzle, row):
     book, puzzle, row = tupled(book), tupled(puzzle), tupled(row)
     if len(row) != len(puzzle[3]):
         return []
-    left = first_values(book, puzzle)
-    for place, value in zip(puzzle[3], row):
-        if value not in left[place]:
-            return []
-        left[place] = (value,)
-    return settings_within(book, puzzle, left)
+    return settings_within(book, puzzle, left_told(first_values(book, puzzle), list(zip(puzzle[3], row))))
 
 
 def values_at(book, puzzle, place):

@@ -20,6 +20,19 @@ def left_with(left, place, values):
     return left[:place] + [values] + left[place + 1:]
 
 
+def setting_with(book, puzzle, pairs):
+    """A setting of the puzzle that has, at the place of each pair, its value; None if there is none."""
+    return net_of(book, puzzle).some(left_told(first_values(book, puzzle), pairs))
+
+
+def left_told(left, pairs):
+    """The left with just the value at the place of each pair, if it is left there."""
+    left = list(left)
+    for place, value in pairs:
+        left[place] = tuple([kept for kept in left[place] if kept == value])
+    return left
+
+
 def parts_at(places, groups):
     """The ascending list of the tuples of places that hang together by groups, tuples of places."""
     marks = list(range(places))
@@ -93,7 +106,9 @@ class Net:
                 self.last[place] = max(self.last[place], spots[-1])
 
     def narrowed(self, left, begin):
-        """What is left when values go that no row of a need has, these needs first; None if a need has no row."""
+        """What is left when values go that no row of a need has, these needs first; None if nothing is somewhere."""
+        if () in left:
+            return None
         left, waiting = list(left), list(begin)
         while waiting:
             spots = waiting.pop()

@@ -22,6 +22,36 @@ LANDED = {
         "needless_ties": "book puzzle", "with_told": "book puzzle place value", "without_told": "puzzle place",
         "with_shown": "puzzle shown", "with_place": "puzzle", "merged": "puzzle place twin", "beside": "one other",
     },
+    "blendworlds.blends": {
+        "tuples_of": "book k", "is_blend": "book k thing", "projections": "book k", "place_of": "book values",
+        "blend_at": "book k blend values", "blended": "book k blend rows", "free_puzzle": "book k",
+        "broken_rows": "book k blend number", "is_broken": "book k blend number thing", "keeps_kind": "book k blend number",
+        "is_keeping": "book k blend", "a_blend": "book k told", "blends": "book k", "how_many_blends": "book k",
+        "put_behind": "book k blend many others", "felt_by": "book k blend", "turned_blend": "book k blend turn",
+    },
+    "blendworlds.showing": {
+        "follows": "book rows row", "following": "book rows", "a_maker": "book rows row", "is_maker": "book rows row thing",
+        "parting_puzzle": "book rows row", "is_parting_puzzle": "book rows row thing", "fewest_seeds": "book rows",
+        "can_show": "book rows", "showing_puzzle": "book rows", "is_showing_puzzle": "book rows thing",
+        "can_be_stuck": "book", "stuck_puzzle": "book", "is_stuck_puzzle": "book thing",
+        "is_told_by_others": "book number", "needless_kinds": "book",
+    },
+    "blendworlds.spared": {
+        "are_spared": "book values", "sparing_blend": "book values", "wanting_puzzle": "book values",
+        "is_wanting": "book values thing", "greatest_spared": "book", "wanted_values": "book", "is_small": "book",
+        "small_book": "book", "taken_out": "book order", "is_folding": "one other thing", "folding": "book",
+        "unfolded": "book setting", "solves_too": "one other", "unsolved_puzzle": "one other",
+        "is_unsolved": "one other thing",
+    },
+    "blendworlds.strikes": {
+        "first_left": "book puzzle", "is_left": "book puzzle thing", "is_open": "book puzzle left strike",
+        "open_strikes": "book puzzle left", "left_behind": "book puzzle strikes", "is_strikes": "book puzzle thing",
+        "all_strikes": "book puzzle", "left_at": "book puzzle", "is_struck_empty": "book puzzle",
+        "is_strikes_to": "book puzzle place value thing", "strikes_to": "book puzzle place value",
+        "fewest_strikes_to": "book puzzle place value", "found_by_strikes": "book puzzle", "sets_of": "book",
+        "sets_puzzle": "book", "sets_setting": "book", "strikes_decide": "book", "set_by_sets": "book puzzle chosen",
+        "undecided_puzzle": "book", "is_undecided": "book thing",
+    },
 }
 CLASSES = {
     "blendworlds.errors": {

@@ -19,7 +19,8 @@ METHODS = set("""append clear copy count endswith extend find get index insert i
 # what the package does without: some of it the rules would let, within limits that are not checked here
 BARRED = (ast.GeneratorExp, ast.Yield, ast.YieldFrom, ast.Global, ast.Nonlocal, ast.Lambda, ast.AsyncFunctionDef, ast.Await,
           ast.Div, ast.MatMult, ast.With, ast.Try, ast.Match, ast.Starred, ast.JoinedStr, ast.Delete, ast.NamedExpr)
-TAKING_LISTS = {"any", "all", "min", "max", "sum"}
+# what iterates at once over the range, zip and the like that it is given
+FEEDING = set("""list tuple dict sorted sum any all min max enumerate zip reversed len combinations permutations""".split())
 
 
 def functions_of(tree):
@@ -143,11 +144,19 @@ class LanguageTest(unittest.TestCase):
         for _, _, tree in self.each():
             fed = [node.iter for node in ast.walk(tree) if isinstance(node, (ast.For, ast.comprehension))]
             fed += [part for node in ast.walk(tree) if isinstance(node, ast.Call) and isinstance(node.func, ast.Name)
-                    for part in node.args]
+                    and node.func.id in FEEDING for part in node.args[:1]]
             for node in ast.walk(tree):
                 if isinstance(node, ast.Call) and isinstance(node.func, ast.Name):
                     if node.func.id in ("zip", "enumerate", "reversed", "range", "product", "combinations", "permutations"):
-                        self.assertIn(node, fed)
+                        self.assertIn(node, fed, ast.unparse(node))
+
+    def test_what_products_take(self):
+        for _, _, tree in self.each():
+            for node in ast.walk(tree):
+                if isinstance(node, ast.Call) and isinstance(node.func, ast.Name) and node.func.id in LIBRARY["itertools"]:
+                    self.assertEqual(node.keywords, [])
+                    for part in node.args[1:]:
+                        self.assertRegex(ast.unparse(part), r"^(many|[0-9]|len\(\w+\))$")
 
 
 if __name__ == "__main__":
