@@ -52,6 +52,23 @@ LANDED = {
         "sets_puzzle": "book", "sets_setting": "book", "strikes_decide": "book", "set_by_sets": "book puzzle chosen",
         "undecided_puzzle": "book", "is_undecided": "book thing",
     },
+    "blendworlds.leasts": {
+        "is_order": "book thing", "is_beneath": "book order one other", "lowest": "book order rows",
+        "least_setting": "book puzzle order", "minimal_settings": "book puzzle order", "least_by_strikes": "book puzzle order",
+        "has_leasts": "book order", "least_blend": "book order", "is_least_blend": "book order thing",
+        "leastless_puzzle": "book order", "is_leastless": "book order thing", "least_orders": "book",
+    },
+    "blendworlds.pairs": {
+        "middle_of": "book one two three", "goes_by_pairs": "book", "pairs_paper": "book", "is_pairs_paper": "book thing",
+        "first_tables": "book puzzle", "tight_tables": "book puzzle", "is_tight": "book puzzle",
+        "is_empty_somewhere": "book puzzle", "setting_by_pairs": "book puzzle", "least_clash": "book puzzle",
+    },
+    "blendworlds.sums": {
+        "sums_blend": "many", "has_sums": "book", "sums_paper": "book", "is_sums_paper": "book thing",
+        "steps_of": "book puzzle", "free_places": "book puzzle", "first_steps": "book puzzle", "how_many_steps": "book puzzle",
+        "are_free": "book puzzle places", "are_enough": "book puzzle places", "fewest_enough": "book puzzle",
+        "how_many_enough": "book puzzle", "set_by": "book puzzle places", "step_at": "book puzzle place",
+    },
 }
 CLASSES = {
     "blendworlds.errors": {

@@ -3,9 +3,12 @@
 import unittest
 
 from blendworlds.blends import is_blend, is_broken
+from blendworlds.leasts import is_least_blend, is_leastless, is_order
+from blendworlds.pairs import is_pairs_paper
 from blendworlds.showing import is_maker, is_parting_puzzle, is_showing_puzzle, is_stuck_puzzle
 from blendworlds.spared import is_folding, is_unsolved, is_wanting
 from blendworlds.strikes import is_left, is_strikes, is_strikes_to, is_undecided, sets_puzzle
+from blendworlds.sums import is_sums_paper
 from tests.helper import UNLIKE, listed
 from tests.test_things import HUGE, LONG, ODD, Checked
 
@@ -128,6 +131,62 @@ class StrikesThingsTest(Checked):
         self.check(lambda thing: is_undecided(UNALIKE, thing), good, bad + NO_PUZZLES)
         told = (3, TRIANGLE[1], ((0, 0),), ())
         self.check(lambda thing: is_undecided((2, True, UNALIKE[2]), thing), good, [told] + NO_PUZZLES)
+
+
+class LeastThingsTest(Checked):
+    def test_orders(self):
+        bad = [(0, 1), (0, 1, 2, 3), (0, 1, 1), (1, 2, 3), (-1, 0, 1), (0, True, 2), (False, 1, 2), (0, 1, None), (0, 1, "2"),
+               (0, 1, (2,)), (0, 1, [2]), (0, 1, HUGE), "012"]
+        self.check(lambda thing: is_order(RING, thing), [(0, 1, 2), (2, 0, 1), (1, 0, 2)], bad + ODD)
+        self.check(lambda thing: is_order(listed(RING), thing), [(0, 1, 2)], bad)
+        self.check(lambda thing: is_order((1, True, ()), thing), [(0,)], [(), (1,), (False,), (0, 0)] + ODD)
+
+    def test_least_blends(self):
+        bad = [(0, 1, 1, 1), (0, 0, 1, 1), (0, 0, 0), (0, 0, 0, 1, 1), (0, 0, 0, True), (False, 0, 0, 1), (0, 0, 0, 2), (0, 0, 0, None),
+               (0, 0, 0, "1"), (0, 0, 0, (1,)), (0, 0, 0, HUGE), "0001", (0, 0, 0, -1), (0, 0, 0, 0)]
+        self.check(lambda thing: is_least_blend(CLIMB, (0, 1), thing), [(0, 0, 0, 1)], bad + ODD)
+        self.check(lambda thing: is_least_blend(BELOW, (0, 1), thing), [(0, 0, 0, 1), (0, 0, 0, 0)], bad[:-1] + ODD)
+        self.check(lambda thing: is_least_blend(UNALIKE, (0, 1), thing), [], [(0, 0, 0, 1), (0, 0, 0, 0)] + bad + ODD)
+
+    def test_leastless_puzzles(self):
+        either = (2, True, ((2, ((0, 1), (1, 0), (1, 1))),))
+        good = [(2, ((0, (0, 1)),), (), ()), (9, MANY_TIES, (), (0,) * 9), (HUGE, ((0, (0, HUGE - 1)),), (), ()),
+                (4, ((0, (0, 1)),), ((3, 0),), ())]
+        bad = [(2, ((0, (0, 1)),), ((0, 0),), ()), (0, (), (), ()), (1, (), (), ()), (1, ((0, (0, 0)),), (), ()), (HUGE, (), (), ()),
+               (2, ((0, (0, 1)),), ((0, 0), (1, 0)), ())]
+        self.check(lambda thing: is_leastless(either, (0, 1), thing), good, bad + NO_PUZZLES)
+        self.check(lambda thing: is_leastless(either, (1, 0), thing), [], good + bad + NO_PUZZLES)
+
+
+class PairThingsTest(Checked):
+    def test_papers_of_pairs(self):
+        bars = (2, True, ((3, ((0, 0, 1), (0, 1, 0), (1, 0, 0))),))
+        three = (3, ((0, (0, 1, 2)),), (), (0, 1, 2))
+        good = [(three, (0, 0, 0)), ((9, ((0, (8, 1, 2)),), (), (1, 2, 8, 8)), (0, 0, 0, 0)),
+                ((HUGE, ((0, (0, 1, HUGE - 1)),), (), (0, 1, HUGE - 1)), (0, 0, 0))]
+        bad = [(three, (0, 0, 1)), (three, (1, 1, 0)), (three, (0, 0)), (three, (0, 0, 0, 0)), (three, ()), (three, (0, 0, False)),
+               (three, (0, 0, -1)), (three, (0, 0, 2)), (three, (0, 0, None)), (three, "000"), (three, 0), (three,), (three, (0, 0, 0), 0),
+               (three, (0, 0, HUGE)), ((3, three[1], (), ()), ()), ((3, three[1], (), (0,)), (0,)), (((0, 0, 0)), three),
+               ((3, three[1], (), (0, 0)), (0, 0)), ((1, ((0, (0, 0, 0)),), (), (0,)), (0,)), (three, LONG), (None, (0, 0, 0)),
+               ((0, (), (), ()), ())]
+        bad = bad + [(thing, row) for thing in NO_PUZZLES for row in ((0, 0), (0, 0, 0), ())]
+        self.check(lambda thing: is_pairs_paper(bars, thing), good, bad + ODD)
+        self.check(lambda thing: is_pairs_paper(CLIMB, thing), [], good + bad)
+
+
+class SumThingsTest(Checked):
+    def test_papers_of_sums(self):
+        two, three = (2, ((0, (0, 1)),), (), ()), ((0, 0), (0, 1), (1, 1))
+        good = [(two, three), (two, three[::-1]), ((2, ((0, (0, 1)),), (), (1, 1)), three)]
+        bad = [(two, three[:2]), (two, three + three[:1]), (two, ((0, 0),) * 3), (two, ((0, 0), (0, 1), (1, 0))), (two, three, 0), (two,),
+               (two, ((0, 0), (0, 1), (1, True))), (two, ((0, 0), (0, 1), (1, 1, 1))), (two, ((0, 0), (0, 1), None)), (two, None),
+               (two, ((0, 0), (0, 1), "11")), (two, ((0, 0), (False, 1), (1, 1))), (two, (0, 0, 1)), (two, ((), (), ())), (two, LONG),
+               (two, ((0, 0), (0, 1), (1, HUGE))), (two, ((0, 0), (0, 1), (1, -1))), (three, two), ((0, (), (), ()), ((), (), ())),
+               ((2, ((0, (0, 1)),), ((0, 1),), ()), three), ((3, two[1], (), ()), three), ((HUGE, two[1], (), ()), three)]
+        bad = bad + [(thing, rows) for thing in NO_PUZZLES for rows in (three, ((), (), ()), ())]
+        self.check(lambda thing: is_sums_paper(CLIMB, thing), good, bad + ODD)
+        self.check(lambda thing: is_sums_paper(BELOW, thing), good, bad + ODD)
+        self.check(lambda thing: is_sums_paper(UNALIKE, thing), [], good + bad)
 
 
 if __name__ == "__main__":
