@@ -4,7 +4,7 @@ from itertools import combinations
 
 from blendworlds.blends import a_blend, free_puzzle, is_blend, is_keeping, made_of, place_of, tuples_of
 from blendworlds.books import constants, without_kind
-from blendworlds.checks import as_set, check_kind, tupled
+from blendworlds.checks import as_set, tupled
 from blendworlds.errors import CanNot
 from blendworlds.papers import puzzle_in, shows, tie_puzzle
 from blendworlds.puzzles import is_solvable, shown_rows, with_shown
@@ -151,8 +151,6 @@ def is_stuck_puzzle(book, thing):
 
 def is_told_by_others(book, number):
     """Whether some puzzle without this kind shows just its rows."""
-    book = tupled(book)
-    check_kind(book, number)
     others, rows = without_kind(book, number), book[2][number][1]
     return can_show(others, rows) if rows else can_be_stuck(others)
 

@@ -121,7 +121,7 @@ def rank(many, steps, places):
         leads = [step for step in steps if step[place]]
         if leads:
             found = found + 1
-            steps = [cleared_at(many, step, leads[0], place) for step in steps if step != leads[0]]
+            steps = [cleared_at(many, step, leads[0], place) for step in steps]
     return found
 
 

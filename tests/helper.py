@@ -93,6 +93,12 @@ def check_call(case, function, named, things=()):
         case.assertEqual(repr(function(**named)), repr(expected))
 
 
+def check_judge(case, function, named):
+    """Checks that the call, of a thing that is as stated, tells so in all forms."""
+    case.assertIs(function(**named), True)
+    check_call(case, function, named, ("thing",))
+
+
 def check_refusal(case, text, function, named):
     """Checks that the call raises the error in all forms."""
     check_raises(case, text, function, **named)

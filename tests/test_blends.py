@@ -5,7 +5,7 @@ import random
 import unittest
 
 from blendworlds import blends, puzzles
-from tests.helper import MIXED, SMALL, UNLIKE, all_settings, check_call, check_examples, check_refusal, some_books, some_puzzles
+from tests.helper import MIXED, SMALL, UNLIKE, all_settings, check_call, check_examples, check_judge, check_refusal, some_books, some_puzzles
 from tests.plain import all_blends, all_tuples, keeps_a_book, keeps_a_kind, makes
 
 EXAMPLES = """
@@ -289,10 +289,8 @@ class FormsTest(unittest.TestCase):
         for function, named in calls:
             with self.subTest(function=function.__name__):
                 check_call(self, function, named)
-        check_call(self, blends.is_blend, {"book": SMALL, "k": 2, "thing": MOST}, ("thing",))
-        broken = {"book": SMALL, "k": 2, "blend": (0, 1, 0, 0), "number": 1, "thing": ((1,), (1,))}
-        self.assertIs(blends.is_broken(**broken), True)
-        check_call(self, blends.is_broken, broken, ("thing",))
+        check_judge(self, blends.is_blend, {"book": SMALL, "k": 2, "thing": MOST})
+        check_judge(self, blends.is_broken, {"book": SMALL, "k": 2, "blend": (0, 1, 0, 0), "number": 1, "thing": ((1,), (1,))})
 
 
 if __name__ == "__main__":

@@ -6,7 +6,7 @@ import unittest
 
 from blendworlds import leasts
 from blendworlds.puzzles import is_puzzle
-from tests.helper import LINE, MIXED, SMALL, UNLIKE, all_settings, check_call, check_examples, check_refusal, some_books, some_puzzles
+from tests.helper import LINE, MIXED, SMALL, UNLIKE, all_settings, check_call, check_examples, check_judge, check_refusal, some_books, some_puzzles
 from tests.plain import all_blends, all_tuples, keeps_a_book, left_by_plain_strikes, pool
 
 EXAMPLES = """
@@ -220,8 +220,7 @@ class FormsTest(unittest.TestCase):
         ]
         for function, named in things:
             with self.subTest(function=function.__name__):
-                self.assertIs(function(**named), True)
-                check_call(self, function, named, ("thing",))
+                check_judge(self, function, named)
 
 
 if __name__ == "__main__":

@@ -7,7 +7,7 @@ import unittest
 from blendworlds import pairs
 from blendworlds.blends import free_puzzle
 from blendworlds.puzzles import is_puzzle, with_shown
-from tests.helper import SMALL, all_settings, check_call, check_examples, check_refusal, some_books, some_puzzles
+from tests.helper import SMALL, all_settings, check_call, check_examples, check_judge, check_refusal, some_books, some_puzzles
 from tests.plain import all_tuples, keeps_a_book, pool, shown_by
 
 EXAMPLES = """
@@ -289,8 +289,7 @@ class FormsTest(unittest.TestCase):
             with self.subTest(function=function.__name__):
                 check_call(self, function, named)
         paper = ((3, ((0, (0, 1, 2)),), (), (0, 1, 2)), (0, 0, 0))
-        self.assertIs(pairs.is_pairs_paper(BARS, paper), True)
-        check_call(self, pairs.is_pairs_paper, {"book": BARS, "thing": paper}, ("thing",))
+        check_judge(self, pairs.is_pairs_paper, {"book": BARS, "thing": paper})
 
 
 if __name__ == "__main__":

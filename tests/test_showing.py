@@ -7,7 +7,7 @@ import unittest
 from blendworlds import showing
 from blendworlds.books import with_kind, without_kind
 from blendworlds.puzzles import is_puzzle, shown_rows, with_shown
-from tests.helper import MIXED, SMALL, UNLIKE, all_settings, check_call, check_examples, check_refusal, some_books
+from tests.helper import MIXED, SMALL, UNLIKE, all_settings, check_call, check_examples, check_judge, check_refusal, some_books
 from tests.plain import all_blends, all_tuples, keeps_a_book, makes, pool, shown_by
 
 EXAMPLES = """
@@ -310,8 +310,7 @@ class FormsTest(unittest.TestCase):
         ]
         for function, named in things:
             with self.subTest(function=function.__name__):
-                self.assertIs(function(**named), True)
-                check_call(self, function, named, ("thing",))
+                check_judge(self, function, named)
 
     def test_makers_keep_the_book(self):
         for book in (UNLIKE, MIXED):

@@ -7,7 +7,7 @@ import unittest
 from blendworlds import spared
 from blendworlds.books import without_values
 from blendworlds.puzzles import is_puzzle
-from tests.helper import MIXED, SMALL, UNLIKE, all_settings, check_call, check_examples, check_refusal, some_books, some_puzzles
+from tests.helper import MIXED, SMALL, UNLIKE, all_settings, check_call, check_examples, check_judge, check_refusal, some_books, some_puzzles
 from tests.plain import all_blends, all_tuples, pool
 
 EXAMPLES = """
@@ -150,6 +150,13 @@ class SmallBookTest(unittest.TestCase):
             self.assertEqual(spared.unfolded(book, setting), tuple(left[value] for value in setting))
         self.assertEqual(spared.unfolded(PATH, ()), ())
 
+    def test_which_of_the_greatest_goes(self):
+        book = (3, False, ((1, ((0,), (2,))), (1, ((1,),))))
+        self.assertEqual(spared.greatest_spared(book), [(0,), (2,)])
+        self.assertEqual(spared.small_book(book), (2, False, ((1, ((1,),)), (1, ((0,),)))))
+        self.assertEqual(spared.unfolded(book, (0, 1)), (1, 2))
+        self.assertEqual(spared.folding(book), (1, 0, 1))
+
     def test_folding(self):
         for book in BOOKS:
             row = spared.folding(book)
@@ -274,8 +281,7 @@ class FormsTest(unittest.TestCase):
         ]
         for function, named in things:
             with self.subTest(function=function.__name__):
-                self.assertIs(function(**named), True)
-                check_call(self, function, named, ("thing",))
+                check_judge(self, function, named)
 
 
 if __name__ == "__main__":

@@ -7,7 +7,7 @@ import unittest
 from blendworlds import strikes
 from blendworlds.blends import free_puzzle
 from blendworlds.puzzles import is_puzzle, is_setting
-from tests.helper import LINE, MIXED, SMALL, UNLIKE, all_settings, check_call, check_examples, check_refusal, some_books, some_puzzles
+from tests.helper import LINE, MIXED, SMALL, UNLIKE, all_settings, check_call, check_examples, check_judge, check_refusal, some_books, some_puzzles
 from tests.plain import left_by_plain_strikes, plain_open, pool
 
 EXAMPLES = """
@@ -372,8 +372,7 @@ class FormsTest(unittest.TestCase):
         ]
         for function, named in things:
             with self.subTest(function=function.__name__):
-                self.assertIs(function(**named), True)
-                check_call(self, function, named, ("thing",))
+                check_judge(self, function, named)
 
 
 if __name__ == "__main__":

@@ -6,7 +6,7 @@ import unittest
 
 from blendworlds import sums
 from blendworlds.puzzles import is_puzzle
-from tests.helper import UNLIKE, all_settings, check_call, check_examples, check_refusal, some_books
+from tests.helper import UNLIKE, all_settings, check_call, check_examples, check_judge, check_refusal, some_books
 from tests.plain import all_tuples, keeps_a_book, pool
 
 EXAMPLES = """
@@ -41,7 +41,7 @@ def linear_kind(dice, many):
     given = [(tuple(dice.randrange(many) for _ in range(width)), dice.randrange(many)) for _ in range(dice.randint(1, 2))]
     rows = tuple(row for row in all_tuples(many, width)
                  if all(sum(left * right for left, right in zip(weights, row)) % many == worth for weights, worth in given))
-    return width, rows[:0] if len(rows) > 8 else rows
+    return width, rows[:0] if len(rows) > 9 else rows
 
 
 def linear_cases(seed, many_cases):
@@ -261,8 +261,7 @@ class FormsTest(unittest.TestCase):
             with self.subTest(function=function.__name__):
                 check_call(self, function, named)
         paper = ((2, ((0, (0, 1)),), (), ()), ((0, 0), (0, 1), (1, 1)))
-        self.assertIs(sums.is_sums_paper(CLIMB, paper), True)
-        check_call(self, sums.is_sums_paper, {"book": CLIMB, "thing": paper}, ("thing",))
+        check_judge(self, sums.is_sums_paper, {"book": CLIMB, "thing": paper})
 
 
 if __name__ == "__main__":
