@@ -104,10 +104,20 @@ def ties_near(puzzle):
     return near
 
 
+def left_struck(book, puzzle, left):
+    """What is left when strikes end that are done from this left on."""
+    _, left = struck_from(book, puzzle, tuple(left))
+    return left
+
+
 def struck(book, puzzle):
     """A pair of strikes that end and the left behind them."""
-    left, done = first_left(book, puzzle), []
-    near = ties_near(puzzle)
+    return struck_from(book, puzzle, first_left(book, puzzle))
+
+
+def struck_from(book, puzzle, left):
+    """A pair of strikes that end, done from this left on, and the left behind them."""
+    done, near = [], ties_near(puzzle)
     waiting = list(reversed(range(len(puzzle[1]))))
     while waiting:
         at = waiting.pop()

@@ -69,6 +69,35 @@ LANDED = {
         "are_free": "book puzzle places", "are_enough": "book puzzle places", "fewest_enough": "book puzzle",
         "how_many_enough": "book puzzle", "set_by": "book puzzle places", "step_at": "book puzzle place",
     },
+    "blendworlds.moves": {
+        "is_move": "book puzzle setting thing", "open_moves": "book puzzle setting", "is_way": "book puzzle setting thing",
+        "settings_along": "setting way", "turned_back": "setting way", "a_way": "book puzzle one other",
+        "leads": "book puzzle one other", "fewest_moves": "book puzzle one other",
+        "is_fewest_way": "book puzzle one other thing", "setting_parts": "book puzzle", "stuck_places": "book puzzle setting",
+        "frozen_settings": "book puzzle", "blended_way": "book k blend starts ways", "gives_way": "book one other",
+        "rests": "book", "pairs_left": "book", "leads_always": "book",
+    },
+    "blendworlds.making": {
+        "is_single": "book puzzle", "is_enough": "book puzzle setting spots", "fewest_clues": "book puzzle setting",
+        "lean_clues": "book puzzle setting", "tells_all": "book puzzle spots", "fewest_to_tell": "book puzzle",
+        "kept_away": "book puzzle place", "needless_told": "book puzzle", "seen_clues": "book puzzle",
+        "left_by_tries": "book puzzle", "reason_for": "book puzzle place", "is_hint_row": "book puzzle thing",
+        "fewest_hints": "book puzzle", "most_hints": "book puzzle", "spoilt_by": "book puzzle", "how_many_lean": "book puzzle",
+        "fewest_to_have": "book puzzle number",
+    },
+    "blendworlds.changes": {
+        "is_change": "book puzzle thing", "behind": "book puzzle changes", "back_of": "changes", "change_way": "book one other",
+        "fewest_changes": "book one other", "is_change_way": "book one other thing", "touched": "book puzzle change",
+        "lost_settings": "book puzzle change", "won_settings": "book puzzle change", "turned_places": "book puzzle change",
+        "strikes_more": "book puzzle change", "strikes_back": "book puzzle change", "needless_offs": "book puzzle",
+        "barest": "book puzzle", "fewest_off": "book puzzle", "blames": "book puzzle", "lost_blends": "book kind k",
+        "takes_none": "book kind k", "freed_blends": "book number k",
+    },
+    "blendworlds.worlds": {
+        "side_by_side": "book other", "by_kinds": "book other", "halves": "book other row", "joined": "book other row second",
+        "puzzle_beside": "book other puzzle second", "puzzle_halves": "book other puzzle",
+        "blend_beside": "book other k blend second", "blend_half": "book other k blend value", "spared_pairs": "book other",
+    },
 }
 CLASSES = {
     "blendworlds.errors": {
