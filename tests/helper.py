@@ -44,7 +44,7 @@ def told_error(text):
     return getattr(blendworlds.errors, call.func.id), values
 
 
-def check_raises(case, text, function, *given, **named):
+def check_raises(case, text, function, /, *given, **named):
     """Checks that the call raises just the error that text writes."""
     kind, values = told_error(text)
     with case.assertRaises(kind) as caught:

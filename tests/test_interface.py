@@ -98,12 +98,29 @@ LANDED = {
         "puzzle_beside": "book other puzzle second", "puzzle_halves": "book other puzzle",
         "blend_beside": "book other k blend second", "blend_half": "book other k blend value", "spared_pairs": "book other",
     },
+    "blendworlds.judge": {
+        "is_promise": "book thing", "is_kept": "book promise", "a_paper": "book promise", "is_paper": "book promise thing",
+        "kept_of": "book promises", "fall_with": "book kind promises", "come_without": "book number promises",
+        "blamed_kinds": "book promise", "kinds_to_go": "book promise",
+    },
+    "blendworlds.texts": {
+        "row_text": "row", "read_row": "book text", "book_text": "book", "read_book": "text", "puzzle_text": "puzzle",
+        "read_puzzle": "book text", "settings_text": "rows", "read_settings": "book puzzle text",
+    },
+    "blendworlds.desk": {"is_request": "book thing", "replies": "book places text"},
 }
 CLASSES = {
     "blendworlds.errors": {
         "NoKind": "number", "NoPlace": "number", "NothingDone": "", "NoValue": "number", "NoWord": "word",
         "BadLine": "number", "BadText": "piece", "CanNot": "", "Unfit": "",
     },
+    "blendworlds.board": {"Board": "book places"},
+}
+BOARD = {
+    "tie": "number spots", "untie": "tie", "tell": "place value", "untell": "place", "show": "spots", "more": "",
+    "put": "place value", "clear": "place", "kind": "kind", "unkind": "number", "undo": "", "__len__": "", "twin": "",
+    "book": "", "puzzle": "", "sets": "", "count": "", "is_done": "", "broken": "", "sure": "", "seen": "", "hints": "",
+    "wrong": "", "changed": "", "__eq__": "other",
 }
 
 
@@ -132,6 +149,17 @@ class InterfaceTest(unittest.TestCase):
                     if words:
                         asked = list(inspect.signature(made.__init__).parameters)
                         self.assertEqual(asked, ["self", *words.split()])
+
+    def test_methods_of_boards(self):
+        made = importlib.import_module("blendworlds.board").Board
+        for name, words in BOARD.items():
+            with self.subTest(name=name):
+                # in the class itself, not in a base class
+                self.assertIn(name, vars(made))
+                asked = list(inspect.signature(vars(made)[name]).parameters.values())
+                self.assertEqual([part.name for part in asked], ["self", *words.split()])
+                for part in asked:
+                    self.assertEqual((part.kind, part.default), (part.POSITIONAL_OR_KEYWORD, part.empty))
 
 
 if __name__ == "__main__":

@@ -18,7 +18,7 @@ METHODS = set("""append clear copy count endswith extend find get index insert i
     setdefault split splitlines startswith strip update upper values zfill bit_length add discard sort""".split())
 # what the package does without: some of it the rules would let, within limits that are not checked here
 BARRED = (ast.GeneratorExp, ast.Yield, ast.YieldFrom, ast.Global, ast.Nonlocal, ast.Lambda, ast.AsyncFunctionDef, ast.Await,
-          ast.Div, ast.MatMult, ast.With, ast.Try, ast.Match, ast.Starred, ast.JoinedStr, ast.Delete, ast.NamedExpr)
+          ast.Div, ast.MatMult, ast.Pow, ast.With, ast.Match, ast.Starred, ast.JoinedStr, ast.Delete, ast.NamedExpr)
 # what iterates at once over the range, zip and the like that it is given
 FEEDING = set("""list tuple dict sorted sum any all min max enumerate zip reversed len combinations permutations""".split())
 
@@ -119,10 +119,31 @@ class LanguageTest(unittest.TestCase):
             names = assigned_names(tree)
             self.assertEqual([name for name in names if name in imported], [])
             self.assertEqual([name for name in names if name in dir(builtins)], [])
-            self.assertEqual([name for name in names if name.startswith("_") and name not in ("_", "__init__")], [])
+            self.assertEqual([name for name in names if name.startswith("_") and name not in ("_", "__init__", "__eq__", "__len__")], [])
             for function in functions_of(tree):
                 local = assigned_names(function)[:-1] if function.name in classes else assigned_names(function)
                 self.assertFalse(classes & set(local), function.name)
+
+    def test_errors_that_are_caught(self):
+        own = {node.name for node in ast.parse((PACKAGE / "errors.py").read_text()).body if isinstance(node, ast.ClassDef)}
+        for _, _, tree in self.each():
+            for node in [part for part in ast.walk(tree) if isinstance(part, ast.Try)]:
+                self.assertEqual((node.orelse, node.finalbody), ([], []))
+                names = [handler.name for handler in node.handlers if handler.name]
+                self.assertEqual(len(names), len(set(names)))
+                for handler in node.handlers:
+                    self.assertIn(handler.type.id, own)
+                    self.assertNotIn(handler.name, assigned_names(tree))
+
+    def test_classes(self):
+        for _, _, tree in self.each():
+            for node in [part for part in ast.walk(tree) if isinstance(part, ast.ClassDef)]:
+                methods = [part.name for part in node.body if isinstance(part, ast.FunctionDef)]
+                stored = {part.attr for part in ast.walk(node) if isinstance(part, ast.Attribute) and isinstance(part.ctx, ast.Store)}
+                self.assertEqual(len(methods), len(set(methods)))
+                self.assertFalse(stored & set(methods))
+                for method in [part for part in node.body if getattr(part, "name", "") in ("__eq__", "__len__")]:
+                    self.assertEqual([type(part) for part in method.body], [ast.Return])
 
     def test_calls(self):
         own = {node.name for _, _, tree in self.each() for node in ast.walk(tree)
@@ -130,6 +151,7 @@ class LanguageTest(unittest.TestCase):
         for _, _, tree in self.each():
             known = set(assigned_names(tree)) | {name.name for node in tree.body if isinstance(node, ast.ImportFrom)
                                                  for name in node.names}
+            known |= {node.name for node in ast.walk(tree) if isinstance(node, ast.ExceptHandler)}
             for node in ast.walk(tree):
                 if isinstance(node, ast.Name) and node.id not in known:
                     self.assertIn(node.id, BUILTINS)
