@@ -44,13 +44,29 @@ def blended(book, k, blend, rows):
     return made_of(book, blend, rows)
 
 
+def codes_behind(many, codes, rows):
+    """The list of the codes with each row put behind, of so many values.
+
+    The code of some rows has for each column the number of the tuple of values that stand there.
+    """
+    return [tuple([code * many + value for code, value in zip(first, row)]) for first in codes for row in rows]
+
+
+def codes_of(book, k, number):
+    """The list of the codes of all k rows of the kind, ascending by these."""
+    width, rows = book[2][number]
+    codes = [(0,) * width]
+    for _ in range(k):
+        codes = codes_behind(book[0], codes, rows)
+    return codes
+
+
 def free_ties(book, k):
     """The set of the ties of the free puzzle of k."""
     ties = []
-    for number, (_, rows) in enumerate(book[2]):
-        for chosen in choices(rows, k):
-            ties.append((number, tuple([place_of(book, column) for column in columns_of(chosen)])))
-    return as_set(ties)
+    for number in range(len(book[2])):
+        ties.extend([(number, spots) for spots in sorted(codes_of(book, k, number))])
+    return tuple(ties)
 
 
 def free_puzzle(book, k):
@@ -60,33 +76,40 @@ def free_puzzle(book, k):
     return len(tuples_of(book, k)), free_ties(book, k), tuple(told), ()
 
 
-def all_broken(book, k, blend, number):
-    """The ascending list of the tuples of k rows of the kind of which the blend makes no row of it."""
-    rows = book[2][number][1]
-    return [chosen for chosen in choices(rows, k) if made_of(book, blend, chosen) not in rows]
+def first_broken(book, k, blend, number):
+    """The number of the least tuple of k rows of the kind of which the blend makes no row of it, if there is one."""
+    many, (_, rows) = book[0], book[2][number]
+    for at, codes in enumerate(codes_of(book, k - 1, number)):
+        for last, row in enumerate(rows):
+            if tuple([blend[code * many + value] for code, value in zip(codes, row)]) not in rows:
+                return at * len(rows) + last
+    return None
 
 
 def keeps_kind(book, k, blend, number):
     """Whether the blend keeps the kind of this number."""
-    return broken_rows(book, k, blend, number) is None
+    book = tupled(book)
+    check_kind(book, number)
+    return first_broken(book, k, blend, number) is None
 
 
 def broken_rows(book, k, blend, number):
     """The least tuple of k rows of the kind of which the blend makes no row of it, None if it keeps it."""
     book = tupled(book)
     check_kind(book, number)
-    broken = all_broken(book, k, blend, number)
-    return broken[0] if broken else None
+    at = first_broken(book, k, blend, number)
+    return None if at is None else choices(book[2][number][1], k)[at]
 
 
 def is_broken(book, k, blend, number, thing):
     """Whether thing is a tuple of k rows of the kind of which the blend makes no row of it."""
     book = tupled(book)
     check_kind(book, number)
+    rows = book[2][number][1]
     # an equal thing may have True in the place of 1
-    if not is_tuple(thing, k) or not all([are_below(row, book[0]) for row in thing]):
+    if not is_tuple(thing, k) or not all([are_below(row, book[0]) and row in rows for row in thing]):
         return False
-    return thing in all_broken(book, k, blend, number)
+    return made_of(book, blend, thing) not in rows
 
 
 def is_keeping(book, k, blend):
@@ -94,15 +117,21 @@ def is_keeping(book, k, blend):
     book = tupled(book)
     if book[1] and not all([blend_at(book, k, blend, (value,) * k) == value for value in range(book[0])]):
         return False
-    return all([keeps_kind(book, k, blend, number) for number in range(len(book[2]))])
+    for number in range(len(book[2])):
+        if first_broken(book, k, blend, number) is not None:
+            return False
+    return True
+
+
+def left_among(left, lists):
+    """What is left when at each place just values of its list stay."""
+    return [tuple([value for value in values if value in wanted]) for values, wanted in zip(left, lists)]
 
 
 def blend_among(book, k, lists):
     """A blend of k that keeps the book and makes of each tuple of values one in its list; None if there is none."""
     puzzle = free_puzzle(book, k)
-    first = first_values(book, puzzle)
-    left = [tuple([value for value in values if value in wanted]) for values, wanted in zip(first, lists)]
-    return net_of(book, puzzle).some(left)
+    return net_of(book, puzzle).some(left_among(first_values(book, puzzle), lists))
 
 
 def a_blend(book, k, told):

@@ -6,7 +6,7 @@ from blendworlds.errors import NoKind, NoPlace, NoValue
 def tupled(given):
     """What is given, with tuples in the place of lists, at any depth."""
     if isinstance(given, (list, tuple)):
-        return tuple([tupled(part) for part in given])
+        return tuple([part if isinstance(part, int) else tupled(part) for part in given])
     return given
 
 

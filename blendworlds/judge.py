@@ -213,25 +213,24 @@ def has_within(sets, numbers):
     return any([all([number in numbers for number in chosen]) for chosen in sets])
 
 
-def barest_sets(sets):
-    """The ascending list of those of the sets, the smaller ones first, that have no other one within."""
-    found = []
-    for numbers in sets:
-        if not has_within(found, numbers):
-            found.append(numbers)
-    return sorted(found)
-
-
 def blamed_kinds(book, promise):
     """The ascending list of the sets of kinds with just which the promise is not kept, but is with any less."""
     book, promise = tupled(book), tupled(promise)
     check_promise(book, promise)
-    return barest_sets([numbers for numbers in all_sets(book) if not keeps(with_just(book, numbers), promise)])
+    found = []
+    # a kind less breaks no promise, so that no set need be looked at that has one of those found within
+    for numbers in [] if keeps(book, promise) else all_sets(book):
+        if not has_within(found, numbers) and not keeps(with_just(book, numbers), promise):
+            found.append(numbers)
+    return sorted(found)
 
 
 def kinds_to_go(book, promise):
     """The ascending list of the sets of kinds without which the promise is kept, but is not without just some."""
     book, promise = tupled(book), tupled(promise)
     check_promise(book, promise)
-    sets = [numbers for numbers in all_sets(book) if keeps(with_just(book, rest_of(book, numbers)), promise)]
-    return barest_sets(sets)
+    found = []
+    for numbers in all_sets(book):
+        if not has_within(found, numbers) and keeps(with_just(book, rest_of(book, numbers)), promise):
+            found.append(numbers)
+    return sorted(found)

@@ -2,7 +2,7 @@
 
 from itertools import permutations
 
-from blendworlds.blends import blend_among, free_puzzle, is_blend, is_keeping, tuples_of
+from blendworlds.blends import blend_among, free_puzzle, is_blend, is_keeping, left_among, tuples_of
 from blendworlds.books import is_turn
 from blendworlds.checks import tupled
 from blendworlds.errors import CanNot, Unfit
@@ -69,10 +69,14 @@ def least_by_strikes(book, puzzle, order):
     return None if () in left else tuple([least_of(order, values) for values in left])
 
 
+def beneath_both(book, order):
+    """For each two values, ascending, the tuple of the values that are beneath both."""
+    return [order[:order.index(least_of(order, values)) + 1] for values in tuples_of(book, 2)]
+
+
 def some_least_blend(book, order):
     """A blend of two that keeps the book and makes of any two values one beneath both; None if there is none."""
-    lists = [order[:order.index(least_of(order, values)) + 1] for values in tuples_of(book, 2)]
-    return blend_among(book, 2, lists)
+    return blend_among(book, 2, beneath_both(book, order))
 
 
 def has_leasts(book, order):
@@ -83,7 +87,12 @@ def has_leasts(book, order):
 def least_orders(book):
     """The ascending list of the orders by which each solvable puzzle of the book has a least setting."""
     book = tupled(book)
-    return [order for order in permutations(range(book[0])) if has_leasts(book, order)]
+    puzzle, found = free_puzzle(book, 2), []
+    net, left = net_of(book, puzzle), first_values(book, puzzle)
+    for order in permutations(range(book[0])):
+        if net.some(left_among(left, beneath_both(book, order))) is not None:
+            found.append(order)
+    return found
 
 
 def least_blend(book, order):
@@ -108,9 +117,10 @@ def is_least_blend(book, order, thing):
 def leastless_puzzle(book, order):
     """A solvable puzzle without a least setting."""
     book = tupled(book)
-    if has_leasts(book, order):
+    puzzle = free_puzzle(book, 2)
+    if net_of(book, puzzle).some(left_among(first_values(book, puzzle), beneath_both(book, order))) is not None:
         raise CanNot()
-    return free_puzzle(book, 2)
+    return puzzle
 
 
 def is_leastless(book, order, thing):

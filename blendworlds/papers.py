@@ -1,7 +1,7 @@
 """Puzzles that show something: how they are made, and how those that are handed in are looked at."""
 
 from blendworlds.puzzles import is_puzzle, moved_ties
-from blendworlds.search import first_values, net_of, setting_with
+from blendworlds.search import setting_with
 
 
 def tie_puzzle(book, number):
@@ -31,12 +31,6 @@ def trimmed(puzzle):
 def puzzle_in(book, thing):
     """The puzzle of the book that thing is, trimmed; None if it is none."""
     return trimmed(thing) if is_puzzle(book, thing) else None
-
-
-def has_setting_in(book, puzzle, values):
-    """Whether the puzzle has a setting of these values alone."""
-    left = [tuple([value for value in first if value in values]) for first in first_values(book, puzzle)]
-    return net_of(book, puzzle).some(left) is not None
 
 
 def shows(book, puzzle, row):

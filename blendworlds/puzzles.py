@@ -3,7 +3,7 @@
 from blendworlds.checks import are_below, as_set, check_kind, check_places, check_values
 from blendworlds.checks import is_ascending, is_below, is_number, is_tuple, tupled
 from blendworlds.errors import CanNot, Unfit
-from blendworlds.search import first_values, left_told, left_with, net_of, parts_at
+from blendworlds.search import first_values, found_setting, left_told, left_with, net_of, parts_at
 
 
 def is_tie(book, places, thing):
@@ -84,7 +84,7 @@ def part_with(puzzle, place):
 
 def settings_within(book, puzzle, left):
     """The ascending list of the settings that keep the ties and have the values left."""
-    return net_of(book, puzzle).rows_at(left, tuple(range(puzzle[0])))
+    return net_of(book, puzzle).all_rows(left)
 
 
 def settings(book, puzzle):
@@ -103,8 +103,7 @@ def few_settings(book, puzzle, number):
 
 def a_setting(book, puzzle):
     """A setting of the puzzle, None if there is none."""
-    book, puzzle = tupled(book), tupled(puzzle)
-    return net_of(book, puzzle).some(first_values(book, puzzle))
+    return found_setting(tupled(book), tupled(puzzle))
 
 
 def is_solvable(book, puzzle):

@@ -20,6 +20,11 @@ def left_with(left, place, values):
     return left[:place] + [values] + left[place + 1:]
 
 
+def found_setting(book, puzzle):
+    """A setting of the puzzle; None if there is none."""
+    return net_of(book, puzzle).some(first_values(book, puzzle))
+
+
 def setting_with(book, puzzle, pairs):
     """A setting of the puzzle that has, at the place of each pair, its value; None if there is none."""
     return net_of(book, puzzle).some(left_told(first_values(book, puzzle), pairs))
@@ -35,19 +40,39 @@ def left_told(left, pairs):
 
 def parts_at(places, groups):
     """The ascending list of the tuples of places that hang together by groups, tuples of places."""
-    marks = list(range(places))
+    marks, parts = list(range(places)), {}
     for group in groups:
         joined = [marks[place] for place in group]
-        marks = [min(joined) if mark in joined else mark for mark in marks]
-    return [tuple([place for place in range(places) if marks[place] == first]) for first in sorted(set(marks))]
+        least = min(joined)
+        if max(joined) > least:
+            marks = [least if mark in joined else mark for mark in marks]
+    # the mark of a part is its least place, so that parts come in their order
+    for place, mark in enumerate(marks):
+        parts.setdefault(mark, []).append(place)
+    return [tuple(part) for part in list(parts.values())]
+
+
+def rows_within(rows, sets):
+    """The rows of one to three columns that have in each column a value of its set."""
+    if len(sets) == 1:
+        return [row for row in rows if row[0] in sets[0]]
+    if len(sets) == 2:
+        first, second = sets
+        return [row for row in rows if row[0] in first and row[1] in second]
+    first, second, third = sets
+    return [row for row in rows if row[0] in first and row[1] in second and row[2] in third]
 
 
 def spread(spots, rows):
     """The places of a tie, ascending, and what rows have there, if they have like values at like spots."""
     places = tuple(sorted(set(spots)))
-    first = [spots.index(spot) for spot in spots]
-    fitting = [row for row in rows if all([row[at] == value for at, value in zip(first, row)])]
-    return places, [tuple([row[spots.index(place)] for place in places]) for row in fitting]
+    if places == spots:
+        return places, rows
+    if len(places) < len(spots):
+        first = [spots.index(spot) for spot in spots]
+        rows = [row for row in rows if all([row[at] == value for at, value in zip(first, row)])]
+    columns = [spots.index(place) for place in places]
+    return places, [tuple([row[column] for column in columns]) for row in rows]
 
 
 def gathered(ties):
@@ -78,6 +103,15 @@ def shortened(ways, columns):
         short = tuple([row[column] for column in columns])
         found[short] = found.get(short, 0) + ways[row]
     return found
+
+
+def kept_rows(found, spots, rows):
+    """Those of the tuples found, which may be longer than all spots, that have one of rows at these spots."""
+    if len(spots) == 2:
+        first, second = spots
+        return [row for row in found if (row[first], row[second]) in rows]
+    first, second, third = spots
+    return [row for row in found if (row[first], row[second], row[third]) in rows]
 
 
 def woven(lists, places, spots):
@@ -112,15 +146,18 @@ class Net:
         left, waiting = list(left), list(begin)
         while waiting:
             spots = waiting.pop()
-            rows = [row for row in self.needs[spots] if all([value in left[at] for at, value in zip(spots, row)])]
+            rows = rows_within(self.needs[spots], [left[place] for place in spots])
             if not rows:
                 return None
             for column, place in enumerate(spots):
-                had = [row[column] for row in rows]
-                kept = tuple([value for value in left[place] if value in had])
-                if kept != left[place]:
-                    left[place] = kept
-                    waiting.extend(self.near[place])
+                # one value alone is had by all of the rows
+                if len(left[place]) > 1:
+                    had = [row[column] for row in rows]
+                    kept = tuple([value for value in left[place] if value in had])
+                    if kept != left[place]:
+                        left[place] = kept
+                        fresh = [near for near in self.near[place] if near not in waiting]
+                        waiting.extend(fresh)
         return left
 
     def branches(self, left, place):
@@ -176,6 +213,24 @@ class Net:
         for part in self.parts:
             total = total * self.ways(left, part, ()).get((), 0)
         return total
+
+    def rows(self, left):
+        """The ascending list of the settings of what is left, by the places one behind another."""
+        left = self.narrowed(left, list(self.needs))
+        found = [()] if left is not None else []
+        for place in range(self.places if found else 0):
+            values = left[place]
+            found = [row + (value,) for row in found for value in values]
+            for spots in self.near[place]:
+                # what a need of one place asks for is left alone by now
+                if spots[-1] == place and len(spots) > 1:
+                    found = kept_rows(found, spots, self.needs[spots])
+        return found
+
+    def all_rows(self, left):
+        """The ascending list of the settings of what is left."""
+        # of many places each part is better gone through by itself
+        return self.rows(left) if self.places <= 7 else self.rows_at(left, tuple(range(self.places)))
 
     def rows_at(self, left, spots):
         """The ascending list of the tuples that settings of what is left have at these spots."""

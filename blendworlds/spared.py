@@ -1,11 +1,12 @@
 """Spared values: those that solvable puzzles of a book can do without, and books that fold into others."""
 
-from blendworlds.blends import blend_among, blends, free_puzzle
+from blendworlds.blends import free_puzzle
 from blendworlds.books import with_telling, without_values
 from blendworlds.checks import are_below, check_values, is_tuple, tupled
 from blendworlds.errors import CanNot, Unfit
-from blendworlds.papers import has_setting_in, puzzle_in
+from blendworlds.papers import puzzle_in
 from blendworlds.puzzles import is_solvable
+from blendworlds.search import first_values, net_of
 
 
 def others_of(book, values):
@@ -13,9 +14,21 @@ def others_of(book, values):
     return tuple([value for value in range(book[0]) if value not in values])
 
 
+def blends_searched(book):
+    """The net and the left of the free puzzle of one, whose settings are the blends of one that keep the book."""
+    puzzle = free_puzzle(book, 1)
+    return net_of(book, puzzle), first_values(book, puzzle)
+
+
+def setting_among(net, left, values):
+    """A setting, by the net and the left of all settings, that has these values alone; None if there is none."""
+    return net.some([tuple([value for value in kept if value in values]) for kept in left])
+
+
 def blend_without(book, values):
     """A blend of one that keeps the book and makes none of the values; None if there is none."""
-    return blend_among(book, 1, [others_of(book, values)] * book[0])
+    net, left = blends_searched(book)
+    return setting_among(net, left, others_of(book, values))
 
 
 def are_spared(book, values):
@@ -48,29 +61,40 @@ def is_wanting(book, values, thing):
     book = tupled(book)
     check_values(book, values)
     puzzle = puzzle_in(book, thing)
-    if puzzle is None or not is_solvable(book, puzzle):
+    if puzzle is None:
         return False
-    return not has_setting_in(book, puzzle, others_of(book, values))
+    net, left = net_of(book, puzzle), first_values(book, puzzle)
+    if net.some(left) is None:
+        return False
+    return setting_among(net, left, others_of(book, values)) is None
 
 
-def greatest_spared(book):
-    """The ascending list of the spared sets of values that are as great as can be."""
-    book = tupled(book)
-    spared = [others_of(book, blend) for blend in blends(book, 1)]
+def greatest_of(book, blends):
+    """The ascending list of the greatest sets of values that some of all blends of one do without."""
+    spared = [others_of(book, blend) for blend in blends]
     # all that are as great as can be have as many values
     most = max([len(values) for values in spared])
     return sorted(set([values for values in spared if len(values) == most]))
 
 
+def greatest_spared(book):
+    """The ascending list of the spared sets of values that are as great as can be."""
+    book = tupled(book)
+    net, left = blends_searched(book)
+    return greatest_of(book, net.all_rows(left))
+
+
 def wanted_values(book):
     """The set of the values that are not spared, each by itself."""
     book = tupled(book)
-    return tuple([value for value in range(book[0]) if not are_spared(book, (value,))])
+    net, left = blends_searched(book)
+    made = net.all_rows(left)
+    return tuple([value for value in range(book[0]) if all([value in blend for blend in made])])
 
 
 def is_small(book):
     """Whether no value is spared."""
-    return wanted_values(book) == tuple(range(book[0]))
+    return len(wanted_values(book)) == book[0]
 
 
 def small_book(book):
@@ -91,9 +115,9 @@ def taken_out(book, order):
 def folding(book):
     """A tuple of values by which the book folds into its small book."""
     book = tupled(book)
-    spared = greatest_spared(book)[0]
-    left = others_of(book, spared)
-    return tuple([left.index(value) for value in blend_without(book, spared)])
+    net, left = blends_searched(book)
+    kept = others_of(book, greatest_of(book, net.all_rows(left))[0])
+    return tuple([kept.index(value) for value in setting_among(net, left, kept)])
 
 
 def check_folds(one, other):

@@ -6,9 +6,8 @@ from blendworlds.checks import are_below, as_set, check_places, check_values, is
 from blendworlds.checks import is_tuple, tupled
 from blendworlds.errors import Unfit
 from blendworlds.papers import puzzle_in
-from blendworlds.puzzles import a_setting, is_setting, is_solvable
-from blendworlds.search import first_values
-from blendworlds.tuples import choices
+from blendworlds.puzzles import is_setting, is_solvable
+from blendworlds.search import first_values, found_setting, rows_within
 
 
 def first_left(book, puzzle):
@@ -21,12 +20,7 @@ def is_left(book, puzzle, thing):
     return is_tuple(thing, puzzle[0]) and all([are_below(part, book[0]) and is_ascending(part) for part in thing])
 
 
-def rows_within(rows, sets):
-    """The rows that have in each column a value of its set."""
-    return [row for row in rows if all([value in values for value, values in zip(row, sets)])]
-
-
-def left_at_spots(left, spots):
+def sets_at(left, spots):
     """What is left at each of the spots."""
     return [left[spot] for spot in spots]
 
@@ -34,18 +28,28 @@ def left_at_spots(left, spots):
 def open_at(book, left, tie):
     """The ascending list of the pairs of a column of this tie and a value that can be struck there."""
     number, spots = tie
-    sets = left_at_spots(left, spots)
-    rows = rows_within(book[2][number][1], sets)
-    return [(column, value) for column in range(len(spots)) for value in sets[column]
-            if value not in [row[column] for row in rows]]
+    sets = sets_at(left, spots)
+    rows, found = rows_within(book[2][number][1], sets), []
+    for column, values in enumerate(sets):
+        had = [row[column] for row in rows]
+        found.extend([(column, value) for value in values if value not in had])
+    return found
+
+
+def is_open_in(book, ties, left, strike):
+    """Whether the strike at one of the ties is open in this left."""
+    at, column, value = strike
+    if not is_below(at, len(ties)):
+        return False
+    number, spots = ties[at]
+    if not is_below(column, len(spots)) or value not in left[spots[column]]:
+        return False
+    return value not in [row[column] for row in rows_within(book[2][number][1], sets_at(left, spots))]
 
 
 def is_open(book, puzzle, left, strike):
     """Whether the strike is open in this left."""
-    book, puzzle, strike = tupled(book), tupled(puzzle), tupled(strike)
-    if not is_below(strike[0], len(puzzle[1])):
-        return False
-    return strike[1:] in open_at(book, left, puzzle[1][strike[0]])
+    return is_open_in(book, puzzle[1], left, strike)
 
 
 def open_strikes(book, puzzle, left):
@@ -67,9 +71,9 @@ def left_done(puzzle, left, strike):
 
 def left_after(book, puzzle, strikes):
     """What strikes, done from the first left on, leave; None if one is not open in its turn."""
-    left = first_left(book, puzzle)
+    left = tuple(first_values(book, puzzle))
     for strike in strikes:
-        if not is_open(book, puzzle, left, strike):
+        if not is_open_in(book, puzzle[1], left, strike):
             return None
         left = left_done(puzzle, left, strike)
     return left
@@ -84,12 +88,12 @@ def is_strikes(book, puzzle, thing):
     """Whether thing is a tuple of strikes, each open in its turn from the first left on."""
     if not isinstance(thing, tuple) or not all([is_triple(part) for part in thing]):
         return False
-    return left_after(tupled(book), tupled(puzzle), thing) is not None
+    return left_after(book, puzzle, thing) is not None
 
 
 def left_behind(book, puzzle, strikes):
     """The left behind the strikes."""
-    left = left_after(tupled(book), tupled(puzzle), tupled(strikes))
+    left = left_after(book, puzzle, strikes)
     if left is None:
         raise Unfit()
     return left
@@ -106,18 +110,25 @@ def ties_near(puzzle):
 
 def left_struck(book, puzzle, left):
     """What is left when strikes end that are done from this left on."""
-    _, left = struck_from(book, puzzle, tuple(left))
-    return left
+    left, near = list(left), ties_near(puzzle)
+    waiting = list(range(len(puzzle[1])))
+    while waiting:
+        number, spots = puzzle[1][waiting.pop()]
+        rows = rows_within(book[2][number][1], sets_at(left, spots))
+        for column, place in enumerate(spots):
+            had = [row[column] for row in rows]
+            kept = tuple([value for value in left[place] if value in had])
+            if kept != left[place]:
+                left[place] = kept
+                fresh = [at for at in near[place] if at not in waiting]
+                waiting.extend(fresh)
+    return tuple(left)
 
 
 def struck(book, puzzle):
     """A pair of strikes that end and the left behind them."""
-    return struck_from(book, puzzle, first_left(book, puzzle))
-
-
-def struck_from(book, puzzle, left):
-    """A pair of strikes that end, done from this left on, and the left behind them."""
-    done, near = [], ties_near(puzzle)
+    left, done = first_left(book, puzzle), []
+    near = ties_near(puzzle)
     waiting = list(reversed(range(len(puzzle[1]))))
     while waiting:
         at = waiting.pop()
@@ -140,8 +151,8 @@ def all_strikes(book, puzzle):
 
 def left_at(book, puzzle):
     """The left behind strikes that end."""
-    _, left = struck(tupled(book), tupled(puzzle))
-    return left
+    book, puzzle = tupled(book), tupled(puzzle)
+    return left_struck(book, puzzle, first_values(book, puzzle))
 
 
 def is_struck_empty(book, puzzle):
@@ -202,27 +213,46 @@ def sets_of(book):
     return as_set([chosen for many in range(1, len(values) + 1) for chosen in combinations(values, many)])
 
 
-def is_borne_out(rows, sets):
-    """Whether the rows that have in each column a value of its set have there, together, all of these."""
-    kept = rows_within(rows, sets)
-    return all([as_set([row[column] for row in kept]) == values for column, values in enumerate(sets)])
+def mark_of_row(many, row):
+    """The mark of the row alone: of its columns one behind another, with a bit for each of so many values."""
+    return sum([1 << (column * many + value) for column, value in enumerate(row)])
+
+
+def marks_of_some(many, rows):
+    """The list of the marks of all that some of rows, one at least, have in their columns together."""
+    found = {}
+    for row in rows:
+        mark = mark_of_row(many, row)
+        more = [mark | other for other in found]
+        for one in [mark] + more:
+            found[one] = True
+    return list(found)
+
+
+def sets_ties(book, number, names):
+    """The ascending list of the ties of the puzzle of sets of this kind; names tells the place of a set by its mark."""
+    many, (width, rows) = book[0], book[2][number]
+    every, shifts = (1 << many) - 1, [column * many for column in range(width)]
+    # rows that have in each column a value of its set, and together all of these: just what some rows have together
+    spots = [tuple([names[mark >> shift & every] for shift in shifts]) for mark in marks_of_some(many, rows)]
+    return [(number, spot) for spot in sorted(spots)]
 
 
 def sets_puzzle(book):
     """The puzzle of sets of the book."""
     book = tupled(book)
     sets, ties = sets_of(book), []
-    for number, (width, rows) in enumerate(book[2]):
-        for spots in choices(list(range(len(sets))), width):
-            if is_borne_out(rows, left_at_spots(sets, spots)):
-                ties.append((number, spots))
+    names = {sum([1 << value for value in values]): at for at, values in enumerate(sets)}
+    for number in range(len(book[2])):
+        ties.extend(sets_ties(book, number, names))
     told = [(at, values[0]) for at, values in enumerate(sets) if book[1] and len(values) == 1]
     return len(sets), tuple(ties), tuple(told), ()
 
 
 def sets_setting(book):
     """A setting of the puzzle of sets, None if there is none."""
-    return a_setting(book, sets_puzzle(book))
+    book = tupled(book)
+    return found_setting(book, sets_puzzle(book))
 
 
 def strikes_decide(book):
@@ -241,7 +271,9 @@ def set_by_sets(book, puzzle, chosen):
 
 def undecided_puzzle(book):
     """A puzzle that is not struck empty and has no setting, None if there is none."""
-    return None if strikes_decide(book) else sets_puzzle(book)
+    book = tupled(book)
+    puzzle = sets_puzzle(book)
+    return puzzle if found_setting(book, puzzle) is None else None
 
 
 def is_undecided(book, thing):

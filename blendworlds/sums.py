@@ -2,13 +2,13 @@
 
 from itertools import combinations
 
-from blendworlds.blends import broken_rows, is_keeping
+from blendworlds.blends import broken_rows
 from blendworlds.checks import check_places, is_tuple, tupled
 from blendworlds.errors import CanNot, Unfit
 from blendworlds.papers import tie_puzzle
-from blendworlds.puzzles import a_setting, is_puzzle, is_setting
-from blendworlds.search import setting_with
-from blendworlds.tuples import choices, columns_of
+from blendworlds.puzzles import is_puzzle, is_setting
+from blendworlds.search import first_values, net_of
+from blendworlds.tuples import choices
 
 
 def sums_blend(many):
@@ -16,9 +16,25 @@ def sums_blend(many):
     return tuple([(one - two + three) % many for one, two, three in choices(list(range(many)), 3)])
 
 
+def sum_of(many, rows):
+    """The first of three rows, less the second, and the third added."""
+    return tuple([(one - two + three) % many for one, two, three in zip(rows[0], rows[1], rows[2])])
+
+
+def is_closed(many, rows):
+    """Whether any three of rows, the second taken from the first and the third added, make one of rows."""
+    # it is so for any second row if it is for the first of rows: so the differences from it added make such again
+    for at in range(1, len(rows)):
+        for other in rows[at:]:
+            if sum_of(many, (rows[at], rows[0], other)) not in rows:
+                return False
+    return True
+
+
 def has_sums(book):
     """Whether that blend keeps the book."""
-    return is_keeping(book, 3, sums_blend(book[0]))
+    many, _, kinds = tupled(book)
+    return all([is_closed(many, rows) for _, rows in kinds])
 
 
 def sums_paper(book):
@@ -30,11 +46,6 @@ def sums_paper(book):
         if rows is not None:
             return tie_puzzle(book, number), rows
     raise CanNot()
-
-
-def sum_of(many, rows):
-    """The first of three rows, less the second, and the third added."""
-    return tuple([(one - two + three) % many for one, two, three in columns_of(rows)])
 
 
 def is_sums_paper(book, thing):
@@ -53,14 +64,12 @@ def added(many, one, step, times):
     return tuple([(value + times * more) % many for value, more in zip(one, step)])
 
 
-def step_from(book, puzzle, setting, place):
-    """A step that is 0 ahead of the place and 1 there, None if there is none."""
-    many = book[0]
+def step_from(many, net, left, setting, place):
+    """A step that is 0 ahead of the place and 1 there, None if there is none; the settings are those of net and left."""
     value = (setting[place] + 1) % many
-    if value == setting[place]:
+    if value == setting[place] or value not in left[place]:
         return None
-    pairs = [(ahead, setting[ahead]) for ahead in range(place)] + [(place, value)]
-    found = setting_with(book, puzzle, pairs)
+    found = net.some([(one,) for one in setting[:place]] + [(value,)] + left[place + 1:])
     return None if found is None else added(many, found, setting, -1)
 
 
@@ -78,10 +87,12 @@ def leading_steps(book, puzzle):
     """The ascending list of the pairs of a free place and its first step."""
     if not has_sums(book):
         raise Unfit()
-    setting = a_setting(book, puzzle)
+    net = net_of(book, puzzle)
+    left = net.narrowed(first_values(book, puzzle), list(net.needs))
+    setting = None if left is None else net.some(left)
     if setting is None:
         raise CanNot()
-    steps = [(place, step_from(book, puzzle, setting, place)) for place in range(puzzle[0])]
+    steps = [(place, step_from(book[0], net, left, setting, place)) for place in range(puzzle[0])]
     return cleared_steps(book[0], [pair for pair in steps if pair[1] is not None])
 
 
@@ -114,14 +125,23 @@ def cleared_at(many, row, lead, place):
     return added(many, row, lead, fitting[0])
 
 
-def rank(many, steps, places):
-    """How many of the steps, none of which is made of others, are so looked at in these places alone."""
+def cleared_there(many, steps, places):
+    """How many of the steps, none of which is made of others, are so looked at in these places alone; and the others.
+
+    The others are 0 at these places, and all steps that are so are made of them.
+    """
     found = 0
     for place in places:
         leads = [step for step in steps if step[place]]
         if leads:
             found = found + 1
-            steps = [cleared_at(many, step, leads[0], place) for step in steps]
+            steps = [cleared_at(many, step, leads[0], place) for step in steps if step != leads[0]]
+    return found, steps
+
+
+def rank(many, steps, places):
+    """How many of the steps, none of which is made of others, are so looked at in these places alone."""
+    found, _ = cleared_there(many, steps, places)
     return found
 
 
@@ -140,30 +160,25 @@ def are_enough(book, puzzle, places):
     return rank(book[0], steps, places) == len(steps)
 
 
-def all_enough(book, puzzle):
-    """The ascending list of the sets of as few places as can be that are enough."""
-    steps = first_steps(book, puzzle)
-    sets = list(combinations(range(puzzle[0]), len(steps)))
-    return [places for places in sets if rank(book[0], steps, places) == len(steps)]
-
-
 def fewest_enough(book, puzzle):
     """The least set of as few places as can be that are enough."""
-    return all_enough(book, puzzle)[0]
+    # place by place, from the first on, what those ahead do not tell yet
+    return free_places(book, puzzle)
 
 
 def how_many_enough(book, puzzle):
     """How many sets of as few places as can be are enough."""
-    return len(all_enough(book, puzzle))
+    steps = first_steps(book, puzzle)
+    sets = list(combinations(range(puzzle[0]), len(steps)))
+    return len([places for places in sets if rank(book[0], steps, places) == len(steps)])
 
 
 def set_by(book, puzzle, places):
     """The set of the places at which any two settings are alike that are alike at these places."""
     steps = first_steps(book, puzzle)
     check_places(puzzle, places)
-    many, places = book[0], tuple(places)
-    known = rank(many, steps, places)
-    return tuple([place for place in range(puzzle[0]) if rank(many, steps, places + (place,)) == known])
+    _, others = cleared_there(book[0], steps, places)
+    return tuple([place for place in range(puzzle[0]) if not any([step[place] for step in others])])
 
 
 def step_at(book, puzzle, place):
