@@ -65,7 +65,7 @@ def added(many, one, step, times):
 
 
 def step_from(many, net, left, setting, place):
-    """A step that is 0 ahead of the place and 1 there, None if there is none; the settings are those of net and left."""
+    """A step that is 0 ahead of the place and 1 there, of the settings of net and left; None if there is none."""
     value = (setting[place] + 1) % many
     if value == setting[place] or value not in left[place]:
         return None
