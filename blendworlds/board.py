@@ -5,8 +5,9 @@ from blendworlds.checks import as_set, check_kind, check_places, check_values, t
 from blendworlds.errors import CanNot, NothingDone, Unfit
 from blendworlds.hits import fewest_of
 from blendworlds.making import places_missed, sure_clues, with_clues
-from blendworlds.puzzles import broken_ties, how_many_settings, is_setting, settings, with_place, with_shown, with_tie
-from blendworlds.puzzles import with_told, without_tie, without_told
+from blendworlds.puzzles import broken_ties, is_setting, with_place, with_shown, with_tie, with_told
+from blendworlds.puzzles import without_tie, without_told
+from blendworlds.search import counted_settings, found_settings
 from blendworlds.strikes import left_at
 
 
@@ -28,7 +29,7 @@ def ties_without_kind(ties, number):
 def agreeing(state):
     """The ascending list of the settings that agree with a state, a triple of a book, a puzzle, and what is set."""
     book, puzzle, pairs = state
-    return settings(book, with_clues(puzzle, pairs))
+    return found_settings(book, with_clues(puzzle, pairs))
 
 
 def values_of(rows, place):
@@ -160,7 +161,7 @@ class Board:
 
     def count(self):
         """How many settings agree."""
-        return how_many_settings(self.now[0], self.known())
+        return counted_settings(self.now[0], self.known())
 
     def is_done(self):
         """Whether each place is told or set, and so it is a setting."""
@@ -195,7 +196,7 @@ class Board:
     def wrong(self):
         """The least of the smallest sets of set places such that, these set no more, some setting agrees."""
         book, (places, ties, told, _), pairs = self.now
-        rows = settings(book, (places, ties, told, ()))
+        rows = found_settings(book, (places, ties, told, ()))
         if not rows:
             raise CanNot()
         return fewest_of([places_missed((places, ties, pairs, ()), row) for row in rows])

@@ -5,7 +5,8 @@ from blendworlds.books import with_kind, without_kind
 from blendworlds.checks import as_set, check_kind, is_below, is_tuple, tupled
 from blendworlds.errors import Unfit
 from blendworlds.hits import barest_hits, chosen_of, fewest_of, has_all, mark_of
-from blendworlds.puzzles import how_many_settings, is_tie, keeps_tie, parts_of, settings
+from blendworlds.puzzles import is_tie, keeps_tie, parts_of
+from blendworlds.search import counted_settings, found_settings
 from blendworlds.strikes import left_at
 from blendworlds.tuples import choices
 
@@ -140,13 +141,13 @@ def without_rows(rows, others):
 def lost_settings(book, puzzle, change):
     """The ascending list of the settings ahead of the change that are none behind it."""
     book, first, then = ahead_and_behind(book, puzzle, change)
-    return without_rows(settings(book, first), settings(book, then))
+    return without_rows(found_settings(book, first), found_settings(book, then))
 
 
 def won_settings(book, puzzle, change):
     """The ascending list of the settings behind the change that are none ahead of it."""
     book, first, then = ahead_and_behind(book, puzzle, change)
-    return without_rows(settings(book, then), settings(book, first))
+    return without_rows(found_settings(book, then), found_settings(book, first))
 
 
 def values_there(rows, place):
@@ -157,7 +158,7 @@ def values_there(rows, place):
 def turned_places(book, puzzle, change):
     """The set of the places at which settings ahead and behind have not the same set of values."""
     book, first, then = ahead_and_behind(book, puzzle, change)
-    rows, others = settings(book, first), settings(book, then)
+    rows, others = found_settings(book, first), found_settings(book, then)
     return tuple([place for place in range(first[0]) if values_there(rows, place) != values_there(others, place)])
 
 
@@ -205,8 +206,8 @@ def needless_offs(book, puzzle):
     """The set of the offs each of which, it alone, loses and wins no setting."""
     book, puzzle = tupled(book), tupled(puzzle)
     # without what an off takes away no setting goes, so the settings are the same if they are as many
-    total = how_many_settings(book, puzzle)
-    return tuple([off for off in offs_of(puzzle) if how_many_settings(book, changed(puzzle, off)) == total])
+    total = counted_settings(book, puzzle)
+    return tuple([off for off in offs_of(puzzle) if counted_settings(book, changed(puzzle, off)) == total])
 
 
 def barest(book, puzzle):

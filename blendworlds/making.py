@@ -5,8 +5,8 @@ from itertools import combinations
 from blendworlds.checks import as_set, check_places, is_below, is_tuple, tupled
 from blendworlds.errors import CanNot
 from blendworlds.hits import barest_hits, fewest_of, mark_of, marks_unlike, smallest_hit
-from blendworlds.puzzles import how_many_settings, is_solvable, settings, settings_within
-from blendworlds.search import first_values, left_told, left_with
+from blendworlds.puzzles import settings_within
+from blendworlds.search import counted_settings, first_values, found_setting, found_settings, left_told, left_with
 from blendworlds.strikes import left_at, left_struck
 from blendworlds.tuples import choices, columns_of
 
@@ -35,7 +35,7 @@ def with_just_told(puzzle, told):
 
 def is_single(book, puzzle):
     """Whether the puzzle has just one setting."""
-    return how_many_settings(book, puzzle) == 1
+    return counted_settings(tupled(book), tupled(puzzle)) == 1
 
 
 def is_enough(book, puzzle, setting, spots):
@@ -48,7 +48,7 @@ def is_enough(book, puzzle, setting, spots):
 
 def marks_of_others(book, puzzle, setting):
     """The ascending list of the marks of the places at which other settings are not like this one."""
-    return [mark for mark in marks_unlike(setting, settings(book, puzzle)) if mark]
+    return [mark for mark in marks_unlike(setting, found_settings(book, puzzle)) if mark]
 
 
 def fewest_clues(book, puzzle, setting):
@@ -72,22 +72,21 @@ def tells_all(book, puzzle, spots):
     """Whether any two settings are unlike at one of the spots."""
     book, puzzle = tupled(book), tupled(puzzle)
     check_places(puzzle, spots)
-    return are_unlike_at(settings(book, puzzle), spots)
+    return are_unlike_at(found_settings(book, puzzle), spots)
 
 
 def fewest_to_tell(book, puzzle):
     """The least of the smallest sets of places that tell all."""
     book, puzzle = tupled(book), tupled(puzzle)
-    rows, places = settings(book, puzzle), list(range(puzzle[0]))
-    many, reached = 0, 1
-    # so few places can not have as many tuples of values as there are settings
-    while reached < len(rows):
-        many, reached = many + 1, reached * book[0]
-    while True:
-        for spots in combinations(places, many):
-            if are_unlike_at(rows, spots):
-                return spots
-        many += 1
+    rows, places, reached = found_settings(book, puzzle), list(range(puzzle[0])), 1
+    for many in range(len(places)):
+        # fewer places can not have as many tuples of values as there are settings
+        if reached >= len(rows):
+            for spots in combinations(places, many):
+                if are_unlike_at(rows, spots):
+                    return spots
+        reached = reached * book[0]
+    return tuple(places)
 
 
 def needless_told(book, puzzle):
@@ -114,7 +113,7 @@ def seen_of(left):
 def seen_clues(book, puzzle):
     """The set of the clues that striking leaves."""
     book, puzzle = tupled(book), tupled(puzzle)
-    return tuple(seen_of(left_at(book, puzzle))) if is_solvable(book, puzzle) else ()
+    return tuple(seen_of(left_at(book, puzzle))) if found_setting(book, puzzle) is not None else ()
 
 
 def left_with_clues(book, puzzle, left, clues):
@@ -139,10 +138,10 @@ def reason_for(book, puzzle, place):
     """The least of the smallest sets of told places by which the clue at the place is still sure."""
     book, puzzle = tupled(book), tupled(puzzle)
     check_places(puzzle, (place,))
-    rows = settings(book, puzzle)
+    rows = found_settings(book, puzzle)
     if len(set([row[place] for row in rows])) != 1:
         raise CanNot()
-    wrong = [row for row in settings(book, with_just_told(puzzle, ())) if row[place] != rows[0][place]]
+    wrong = [row for row in found_settings(book, with_just_told(puzzle, ())) if row[place] != rows[0][place]]
     marks = as_set([mark_of(places_missed(puzzle, row)) for row in wrong])
     return smallest_hit([spot for spot, _ in puzzle[2]], marks)
 
@@ -165,7 +164,7 @@ def unseen(clues, left):
 
 def sure_and_left(book, puzzle):
     """The list of the sure clues, and what striking leaves."""
-    return sure_clues(settings(book, puzzle)), left_at(book, puzzle)
+    return sure_clues(found_settings(book, puzzle)), left_at(book, puzzle)
 
 
 def is_hint_row(book, puzzle, thing):
@@ -220,7 +219,7 @@ def most_hints(book, puzzle):
 def spoilt_by(book, puzzle):
     """The least of the smallest sets of told places without which told the puzzle is solvable."""
     book, puzzle = tupled(book), tupled(puzzle)
-    rows = settings(book, with_just_told(puzzle, ()))
+    rows = found_settings(book, with_just_told(puzzle, ()))
     if not rows:
         raise CanNot()
     return fewest_of([places_missed(puzzle, row) for row in rows])
@@ -238,7 +237,7 @@ def counts_at(rows, spots):
 def how_many_lean(book, puzzle):
     """How many sets of clues are lean."""
     book, puzzle = tupled(book), tupled(puzzle)
-    rows, places, total = settings(book, puzzle), untold_places(puzzle), 0
+    rows, places, total = found_settings(book, puzzle), untold_places(puzzle), 0
     counts = {}
     for many in range(len(places) + 1):
         for spots in combinations(places, many):
@@ -265,7 +264,7 @@ def least_with(many, counts, length, number):
 def fewest_to_have(book, puzzle, number):
     """The least of the smallest sets of clues with which the puzzle has so many settings."""
     book, puzzle = tupled(book), tupled(puzzle)
-    rows, places = settings(book, puzzle), untold_places(puzzle)
+    rows, places = found_settings(book, puzzle), untold_places(puzzle)
     if not 0 <= number <= len(rows):
         raise CanNot()
     for many in range(len(places) + 1):

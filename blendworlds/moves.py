@@ -4,7 +4,8 @@ from blendworlds.blends import blend_at, is_keeping, made_of
 from blendworlds.books import single_kinds
 from blendworlds.checks import as_set, check_values, is_below, is_tuple, tupled
 from blendworlds.errors import Unfit
-from blendworlds.puzzles import parts_of, settings
+from blendworlds.puzzles import parts_of
+from blendworlds.search import found_settings
 from blendworlds.tuples import choices
 
 
@@ -170,7 +171,7 @@ def setting_parts(book, puzzle):
     """The ascending list of the sets of settings that lead to one another."""
     book, puzzle = tupled(book), tupled(puzzle)
     near, taken, found = needs_near(book, puzzle), {}, []
-    for setting in settings(book, puzzle):
+    for setting in found_settings(book, puzzle):
         if setting not in taken:
             found.append(part_from(book[0], near, setting, taken))
     return found
@@ -187,7 +188,7 @@ def frozen_settings(book, puzzle):
     """The ascending list of the settings from which no move is open."""
     book, puzzle = tupled(book), tupled(puzzle)
     near = needs_near(book, puzzle)
-    return [row for row in settings(book, puzzle) if not all_moves(book[0], near, row)]
+    return [row for row in found_settings(book, puzzle) if not all_moves(book[0], near, row)]
 
 
 def blended_way(book, k, blend, starts, ways):

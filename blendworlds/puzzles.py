@@ -3,7 +3,8 @@
 from blendworlds.checks import are_below, as_set, check_kind, check_places, check_values
 from blendworlds.checks import is_ascending, is_below, is_number, is_tuple, tupled
 from blendworlds.errors import CanNot, Unfit
-from blendworlds.search import first_values, found_setting, left_told, left_with, net_of, parts_at
+from blendworlds.search import counted_settings, first_values, found_setting, found_settings
+from blendworlds.search import left_told, left_with, net_of, parts_at
 
 
 def is_tie(book, places, thing):
@@ -89,15 +90,14 @@ def settings_within(book, puzzle, left):
 
 def settings(book, puzzle):
     """The ascending list of all settings of the puzzle."""
-    book, puzzle = tupled(book), tupled(puzzle)
-    return settings_within(book, puzzle, first_values(book, puzzle))
+    return found_settings(tupled(book), tupled(puzzle))
 
 
 def few_settings(book, puzzle, number):
     """The first settings, so many, or all if there are no more."""
     book, puzzle = tupled(book), tupled(puzzle)
-    if number >= how_many_settings(book, puzzle):
-        return settings(book, puzzle)
+    if number >= counted_settings(book, puzzle):
+        return found_settings(book, puzzle)
     return net_of(book, puzzle).first_rows(first_values(book, puzzle), number)
 
 
@@ -113,8 +113,7 @@ def is_solvable(book, puzzle):
 
 def how_many_settings(book, puzzle):
     """How many settings the puzzle has."""
-    book, puzzle = tupled(book), tupled(puzzle)
-    return net_of(book, puzzle).how_many(first_values(book, puzzle))
+    return counted_settings(tupled(book), tupled(puzzle))
 
 
 def nth_setting(book, puzzle, number):
@@ -197,8 +196,9 @@ def needless_ties(book, puzzle):
     """The set of the ties without which, that one alone, the puzzle has the same settings."""
     book, puzzle = tupled(book), tupled(puzzle)
     # without a tie no setting goes, so the settings are the same if they are as many
-    total = how_many_settings(book, puzzle)
-    return tuple([tie for tie in puzzle[1] if how_many_settings(book, without_tie(puzzle, tie)) == total])
+    total, (places, ties, told, _) = counted_settings(book, puzzle), puzzle
+    fewer = [(tie, tuple([kept for kept in ties if kept != tie])) for tie in ties]
+    return tuple([tie for tie, rest in fewer if counted_settings(book, (places, rest, told, ())) == total])
 
 
 def with_told(book, puzzle, place, value):

@@ -12,7 +12,7 @@ def first_values(book, puzzle):
 
 def net_of(book, puzzle):
     """The net of the ties of the puzzle; what is told is no part of it."""
-    return Net(puzzle[0], [(spots, book[2][number][1]) for number, spots in puzzle[1]])
+    return Net(puzzle[0], gathered(book[2], puzzle[1]))
 
 
 def left_with(left, place, values):
@@ -23,6 +23,16 @@ def left_with(left, place, values):
 def found_setting(book, puzzle):
     """A setting of the puzzle; None if there is none."""
     return net_of(book, puzzle).some(first_values(book, puzzle))
+
+
+def found_settings(book, puzzle):
+    """The ascending list of all settings of the puzzle."""
+    return net_of(book, puzzle).all_rows(first_values(book, puzzle))
+
+
+def counted_settings(book, puzzle):
+    """How many settings the puzzle has."""
+    return net_of(book, puzzle).how_many(first_values(book, puzzle))
 
 
 def setting_with(book, puzzle, pairs):
@@ -63,26 +73,40 @@ def rows_within(rows, sets):
     return [row for row in rows if row[0] in first and row[1] in second and row[2] in third]
 
 
+def shape_of(places, spots):
+    """For each of the spots its number among the places."""
+    return tuple([places.index(spot) for spot in spots])
+
+
+def shaped_rows(shape, rows):
+    """What those of rows that have like values at like numbers of the shape have for each of its numbers, ascending."""
+    first = [shape.index(number) for number in shape]
+    if len(set(shape)) < len(shape):
+        rows = [row for row in rows if all([row[at] == value for at, value in zip(first, row)])]
+    columns = [shape.index(number) for number in range(max(shape) + 1)]
+    return [tuple([row[column] for column in columns]) for row in rows]
+
+
 def spread(spots, rows):
     """The places of a tie, ascending, and what rows have there, if they have like values at like spots."""
     places = tuple(sorted(set(spots)))
-    if places == spots:
-        return places, rows
-    if len(places) < len(spots):
-        first = [spots.index(spot) for spot in spots]
-        rows = [row for row in rows if all([row[at] == value for at, value in zip(first, row)])]
-    columns = [spots.index(place) for place in places]
-    return places, [tuple([row[column] for column in columns]) for row in rows]
+    return places, shaped_rows(shape_of(places, spots), rows)
 
 
-def gathered(ties):
+def gathered(kinds, ties):
     """A dict of the rows that all ties at the same places have in common, by these places, ascending."""
-    needs = {}
-    for spots, rows in ties:
-        places, fitting = spread(spots, rows)
+    needs, shaped = {}, {}
+    for number, spots in ties:
+        places, rows = tuple(sorted(set(spots))), kinds[number][1]
+        if places != spots:
+            shape = shape_of(places, spots)
+            # puzzles made of books have many ties of one kind and one shape
+            if (number, shape) not in shaped:
+                shaped[(number, shape)] = shaped_rows(shape, rows)
+            rows = shaped[(number, shape)]
         if places in needs:
-            fitting = [row for row in fitting if row in needs[places]]
-        needs[places] = fitting
+            rows = [row for row in rows if row in needs[places]]
+        needs[places] = rows
     return needs
 
 
@@ -126,11 +150,11 @@ def woven(lists, places, spots):
 
 
 class Net:
-    """The ties over so many places, those at the same places made one need."""
+    """The needs over so many places: the rows that may stand at some of them, by these places, ascending."""
 
-    def __init__(self, places, ties):
+    def __init__(self, places, needs):
         self.places = places
-        self.needs = gathered(ties)
+        self.needs = needs
         self.parts = parts_at(places, list(self.needs))
         self.near = [[] for _ in range(places)]
         self.last = list(range(places))
