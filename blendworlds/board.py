@@ -1,7 +1,7 @@
 """A board: a book, a puzzle of it, and what a player has set, changed by deeds that can be taken back."""
 
 from blendworlds.books import with_kind, without_kind
-from blendworlds.checks import as_set, check_kind, check_places, check_values, tupled
+from blendworlds.checks import as_set, check_places, check_values, tupled
 from blendworlds.errors import CanNot, NothingDone, Unfit
 from blendworlds.hits import fewest_of
 from blendworlds.making import places_missed, sure_clues, with_clues
@@ -118,10 +118,10 @@ class Board:
     def unkind(self, number):
         """The kind of this number goes."""
         book, (places, ties, told, shown), pairs = self.now
-        check_kind(book, number)
+        fewer = without_kind(book, number)
         if is_there(ties, number):
             raise Unfit()
-        self.come_to(without_kind(book, number), (places, ties_without_kind(ties, number), told, shown), pairs)
+        self.come_to(fewer, (places, ties_without_kind(ties, number), told, shown), pairs)
 
     def undo(self):
         """The last deed that is not taken back is taken back."""

@@ -2,7 +2,7 @@
 
 from blendworlds.blends import blends, how_many_blends
 from blendworlds.books import with_kind, without_kind
-from blendworlds.checks import as_set, check_kind, is_below, is_tuple, tupled
+from blendworlds.checks import as_set, is_below, is_tuple, tupled
 from blendworlds.errors import Unfit
 from blendworlds.hits import barest_hits, chosen_of, fewest_of, has_all, mark_of
 from blendworlds.puzzles import is_tie, keeps_tie, parts_of
@@ -191,7 +191,7 @@ def is_missed(book, row, off):
 
 
 def missed_by_all(book, puzzle):
-    """The offs of the puzzle, and the ascending list of the sets of their numbers that some tuple of values misses.
+    """The offs of the puzzle, and the list of the sets of their numbers that some tuple of values misses.
 
     A tuple of values is a setting exactly if it misses none.
     """
@@ -199,7 +199,7 @@ def missed_by_all(book, puzzle):
     found = {}
     for row in choices(list(range(book[0])), puzzle[0]):
         found[tuple([at for at, off in enumerate(offs) if is_missed(book, row, off)])] = True
-    return offs, sorted(found)
+    return offs, list(found)
 
 
 def needless_offs(book, puzzle):
@@ -251,6 +251,4 @@ def takes_none(book, kind, k):
 
 def freed_blends(book, number, k):
     """The ascending list of the blends of k that keep the book without the kind of this number, not the book."""
-    book = tupled(book)
-    check_kind(book, number)
     return without_rows(blends(without_kind(book, number), k), blends(book, k))

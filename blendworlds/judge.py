@@ -218,8 +218,8 @@ def blamed_kinds(book, promise):
     book, promise = tupled(book), tupled(promise)
     check_promise(book, promise)
     found = []
-    # a kind less breaks no promise, so that no set need be looked at that has one of those found within
-    for numbers in [] if keeps(book, promise) else all_sets(book):
+    for numbers in all_sets(book):
+        # a kind less breaks no promise, so that what has one of those found within need not be looked at
         if not has_within(found, numbers) and not keeps(with_just(book, numbers), promise):
             found.append(numbers)
     return sorted(found)

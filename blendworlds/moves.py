@@ -275,23 +275,25 @@ def goes_over(kinds, lot, pair):
     return bool(aims)
 
 
-def unlike_pairs(lot):
-    """The pairs of the lot that are of two values."""
-    return [pair for pair in lot if pair[0] != pair[1]]
+def pair_going(kinds, lot):
+    """An unlike pair of the lot that goes over to another one of it, None if there is none."""
+    for pair in lot:
+        if pair[0] != pair[1] and goes_over(kinds, lot, pair):
+            return pair
+    return None
 
 
 def pairs_left(book):
     """How many unlike pairs of values are left."""
     book = tupled(book)
-    # of each rest as many are left
+    # of each rest as many are left, in whatever order pairs go
     rest = rests(book)[0]
-    kinds = kinds_within(single_kinds(book)[2], rest)
-    lot, before = choices(rest, 2), []
-    while lot != before:
-        before = lot
-        going = [pair for pair in unlike_pairs(lot) if goes_over(kinds, lot, pair)]
-        lot = [pair for pair in lot if pair not in going[:1]]
-    return len(unlike_pairs(lot))
+    kinds, lot = kinds_within(single_kinds(book)[2], rest), choices(rest, 2)
+    going = pair_going(kinds, lot)
+    while going is not None:
+        lot = [pair for pair in lot if pair != going]
+        going = pair_going(kinds, lot)
+    return len([pair for pair in lot if pair[0] != pair[1]])
 
 
 def leads_always(book):

@@ -246,6 +246,10 @@ class BlameTest(unittest.TestCase):
         two = (2, False, ((1, ((0,),)), (1, ((1,),)), (2, ((0, 0),))))
         self.assertEqual(judge.blamed_kinds(two, ("solvable",)), [(0, 1), (1, 2)])
         self.assertEqual(judge.kinds_to_go(two, ("solvable",)), [(0, 2), (1,)])
+        # ascending, not those with fewer kinds ahead
+        three = (2, False, ((1, ((0,),)), (1, ((1,),)), (1, ())))
+        self.assertEqual(judge.blamed_kinds(three, ("solvable",)), [(0, 1), (2,)])
+        self.assertEqual(judge.kinds_to_go(three, ("solvable",)), [(0, 2), (1, 2)])
 
 
 class RefusalsTest(unittest.TestCase):

@@ -34,6 +34,12 @@ PAIRS += some_puzzles(131, 200)
 CASES = [(book, puzzle, all_settings(book, puzzle)) for book, puzzle in PAIRS]
 BOOKS = [CLIMB, LIKE, EITHER, UNLIKE, SMALL, MIXED, BARE, QUIET, ALONE, TWICE, (2, False, ()), (1, False, ()), (2, False, ((1, ()),)),
          (3, False, UNLIKE[2]), (3, False, ((2, ((0, 1), (1, 0), (1, 2), (2, 1))),))] + some_books(132, 80)
+# books of which pairs go just because others have gone, or to pairs that are none the other way round
+BOOKS += [(3, True, ((2, ((0, 1), (0, 2), (1, 1), (1, 2), (2, 0), (2, 1))), (1, ((2,),)))), (3, True, ((2, ((0, 0), (0, 2), (1, 0), (2, 0), (2, 1))),)),
+          (3, False, ((1, ((0,),)), (2, ((0, 2), (1, 1), (1, 2), (2, 1))))), (3, False, ((2, ((0, 2), (1, 0), (1, 1))), (2, ((0, 1),)))),
+          (3, True, ((2, ((0, 1), (1, 1), (1, 2), (2, 0), (2, 1))), (1, ((0,), (1,))))), (3, True, ((2, ((0, 0), (1, 1), (2, 1))),)),
+          (3, False, ((2, ((0, 0), (0, 1), (0, 2), (2, 0), (2, 2))), (2, ((1, 0), (1, 2), (2, 0))))), (3, True, ((2, ((0, 1), (0, 2), (1, 0), (1, 1), (2, 0))),)),
+          (3, True, ((2, ((0, 0), (0, 1), (0, 2), (1, 1), (1, 2), (2, 1), (2, 2))),)), (3, True, ((2, ((0, 0), (1, 0), (2, 2))),))]
 BOOKS += [(2, telling, tuple((2, rows) for rows in chosen)) for telling in (False, True) for chosen in itertools.combinations(
     [rows for many in range(5) for rows in itertools.combinations(all_tuples(2, 2), many)], 1)]
 
@@ -304,7 +310,7 @@ class AlwaysTest(unittest.TestCase):
         dice, seen = random.Random(8), set()
         for book in BOOKS:
             for rest in moves.rests(book):
-                for _ in range(2):
+                for _ in range(3):
                     self.assertEqual(moves.pairs_left(book), pairs_gone(dice, plain_kinds(book), rest), book)
             seen.add(moves.pairs_left(book))
             self.assertIs(moves.leads_always(book), moves.pairs_left(book) == 0)

@@ -42,6 +42,15 @@ class GivenInputsTest(unittest.TestCase):
             self.assertIs(sums.are_free(EVEN, ROW, places), free)
             self.assertIs(sums.are_enough(EVEN, ROW, places), enough)
 
+    def test_sums_of_three_values(self):
+        # the last two places have one and the same value, by the first two of them
+        book = (3, True, ((3, tuple(row for row in all_tuples(3, 3) if sum(row) % 3 == 0)),))
+        puzzle = (4, ((0, (0, 1, 2)), (0, (0, 1, 3))), (), ())
+        self.assertEqual((sums.set_by(book, puzzle, (2,)), sums.set_by(book, puzzle, (3, 2)), sums.set_by(book, puzzle, (0, 2))), ((2, 3), (2, 3), (0, 1, 2, 3)))
+        self.assertEqual([sums.are_free(book, puzzle, places) for places in ((2, 3), (0, 2), (1, 3), (0, 1, 2))], [False, True, True, False])
+        self.assertEqual([sums.are_enough(book, puzzle, places) for places in ((2, 3), (0, 2), (1, 3), (0, 1, 2))], [False, True, True, True])
+        self.assertEqual((sums.fewest_enough(book, puzzle), sums.how_many_enough(book, puzzle)), ((0, 1), 5))
+
     def test_sets(self):
         self.assertEqual(strikes.sets_puzzle(QUIET), OF_SETS)
         self.assertEqual(strikes.undecided_puzzle(QUIET), OF_SETS)

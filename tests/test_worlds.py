@@ -124,15 +124,18 @@ class BooksTest(unittest.TestCase):
                 check_refusal(self, "Unfit()", worlds.joined, {"book": book, "other": other, "row": one, "second": two})
 
     def test_one_that_is_telling(self):
-        blend, puzzle = (0, 1), (1, (), (), ())
+        # ahead of all else, and with all else as it should be
+        blend, one, two = (0, 1), (1, (), (), ()), (2, (), (), ())
         for book, other in ((UNALIKE, TELLING), (CLIMB, BELOW), (ONE, ONE_TELLING)):
             named = {"book": book, "other": other}
             calls = [(worlds.side_by_side, {}), (worlds.by_kinds, {}), (worlds.halves, {"row": (0, 0)}), (worlds.spared_pairs, {}),
-                     (worlds.joined, {"row": (0, 0), "second": (0,)}), (worlds.puzzle_beside, {"puzzle": puzzle, "second": (2, (), (), ())}),
-                     (worlds.puzzle_halves, {"puzzle": puzzle}), (worlds.blend_beside, {"k": 1, "blend": blend, "second": blend}),
-                     (worlds.blend_half, {"k": 1, "blend": (0, 1, 2, 3), "value": 7})]
+                     (worlds.joined, {"row": (0, 0), "second": (0,)}), (worlds.joined, {"row": (0, 0), "second": (0, 0)}),
+                     (worlds.puzzle_beside, {"puzzle": one, "second": two}), (worlds.puzzle_beside, {"puzzle": one, "second": one}),
+                     (worlds.puzzle_halves, {"puzzle": one}), (worlds.blend_beside, {"k": 1, "blend": blend, "second": blend}),
+                     (worlds.blend_half, {"k": 1, "blend": (0, 1, 2, 3), "value": 7}), (worlds.blend_half, {"k": 1, "blend": (0, 1, 2, 3), "value": 0})]
             for function, more in calls:
                 check_refusal(self, "Unfit()", function, {**named, **more})
+        check_refusal(self, "Unfit()", worlds.by_kinds, {"book": BELOW, "other": (2, True, UNALIKE[2])})
 
 
 class PuzzlesTest(unittest.TestCase):
