@@ -1,7 +1,5 @@
 """Books made of two books: their values are pairs of a value of the one, its first half, and one of the other."""
 
-from itertools import product
-
 from blendworlds.blends import blend_at, tuples_of
 from blendworlds.checks import as_set, check_values, tupled
 from blendworlds.errors import Unfit
@@ -27,7 +25,7 @@ def second_half(other, row):
 
 def rows_beside(other, rows, seconds):
     """The set of all rows whose first halves are one of rows, and second halves one of seconds."""
-    return as_set([both_halves(other, row, second) for row, second in product(rows, seconds)])
+    return as_set([both_halves(other, row, second) for row in rows for second in seconds])
 
 
 def both_halves(other, row, second):
@@ -39,8 +37,8 @@ def side_by_side(book, other):
     """The book of all pairs of values, with the kinds of both for the halves, each by itself."""
     book, other = tupled(book), tupled(other)
     check_worlds(book, other)
-    kinds = [(width, rows_beside(other, list(rows), tuples_of(other, width))) for width, rows in book[2]]
-    kinds.extend([(width, rows_beside(other, tuples_of(book, width), list(rows))) for width, rows in other[2]])
+    kinds = [(width, rows_beside(other, rows, tuples_of(other, width))) for width, rows in book[2]]
+    kinds.extend([(width, rows_beside(other, tuples_of(book, width), rows)) for width, rows in other[2]])
     return book[0] * other[0], book[1], tuple(kinds)
 
 
@@ -50,8 +48,7 @@ def by_kinds(book, other):
     check_worlds(book, other)
     if [width for width, _ in book[2]] != [width for width, _ in other[2]]:
         raise Unfit()
-    kinds = [(width, rows_beside(other, list(rows), list(seconds)))
-             for (width, rows), (_, seconds) in zip(book[2], other[2])]
+    kinds = [(width, rows_beside(other, rows, seconds)) for (width, rows), (_, seconds) in zip(book[2], other[2])]
     return book[0] * other[0], book[1], tuple(kinds)
 
 

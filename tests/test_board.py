@@ -35,6 +35,8 @@ UNALIKE, BELOW, BARS = (2, ((0, 1), (1, 0))), (2, ((0, 0), (0, 1), (1, 1))), (3,
 BOOK, QUIET, ALONE = (2, True, (UNALIKE, BELOW)), (3, False, UNLIKE[2]), (1, True, ((2, ((0, 0),)), (1, ())))
 BOOKS = [BOOK, QUIET, ALONE, (2, False, (BELOW, BARS)), UNLIKE, (2, True, ()), (2, False, ((1, ()),)), (3, True, UNLIKE[2] + ((1, ((0,), (2,))),))]
 THREE = (2, True, ((2, ((0, 0), (0, 1), (1, 0))), (2, ((0, 1), (1, 0), (1, 1)))))
+# a value that is sure at the place 2, though no strike sees it
+HARD = (("tie", (0, (0, 1))), ("tie", (1, (0, 1))), ("tie", (1, (0, 2))), ("tie", (1, (1, 2))))
 
 
 class Plain:
@@ -228,6 +230,10 @@ class DeedsTest(unittest.TestCase):
             book, places = BOOKS[turn % len(BOOKS)], dice.randint(1, 4)
             board, plain = Board(book, places), Plain(book, places)
             seen.append(check_told(self, board, plain))
+            if turn % 10 == 0:
+                board, plain = Board(THREE, 3), Plain(THREE, 3)
+                for word, given in HARD:
+                    check_deed(self, board, plain, word, given)
             for _ in range(36):
                 word, given = a_deed(dice, plain.state)
                 no = check_deed(self, board, plain, word, given)
@@ -303,7 +309,7 @@ class DeedsTest(unittest.TestCase):
 
     def test_hints_that_no_strike_sees(self):
         board = Board(THREE, 3)
-        for number, spots in ((0, (0, 1)), (1, (0, 1)), (1, (0, 2)), (1, (1, 2))):
+        for _, (number, spots) in HARD:
             board.tie(number, spots)
         self.assertEqual((board.sure(), board.seen(), board.hints()), (((2, 1),), (), ((2, 1),)))
         board.put(2, 1)

@@ -182,7 +182,7 @@ class LanguageTest(unittest.TestCase):
             for node in ast.walk(tree):
                 if isinstance(node, ast.Call) and isinstance(node.func, ast.Name) and node.func.id in LIBRARY["itertools"]:
                     self.assertEqual(node.keywords, [])
-                    for part in [] if node.func.id == "product" else node.args[1:]:
+                    for part in node.args[1:]:
                         self.assertRegex(ast.unparse(part), r"^(many|[0-9]|len\(\w+\))$")
 
 
